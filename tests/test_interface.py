@@ -1,0 +1,91 @@
+"""The names, parameters and places that the document lists, and the conventions [0.2] and [0.3]."""
+
+import importlib
+import inspect
+
+from wholerises.errors import InvalidRow
+from wholerises.row.quotients import Quotient
+from wholerises.stair.cells import Forms
+from tests.support import CATALAN, MIDDLE, NO_ROWS, Case
+
+FUNCTIONS = {
+    "wholerises.base.numbers": {
+        "is_integer": "value", "is_prime": "value", "prime_factors": "number", "moebius": "number",
+        "units_of": "number", "common_divisor": "numbers", "common_multiple": "numbers", "digits_of": "number base"},
+    "wholerises.base.ratios": {
+        "is_ratio": "value", "lowest": "top bottom", "compare": "one other", "plus": "one other",
+        "minus": "one other", "times": "one other", "over": "one other", "floor_of": "ratio", "ceiling_of": "ratio",
+        "part_of": "ratio", "exponent_of": "prime ratio"},
+    "wholerises.base.polynomials": {
+        "is_polynomial": "value", "polynomial_sum": "one other", "polynomial_product": "one other",
+        "polynomial_quotient": "one other", "polynomial_value": "polynomial ratio", "cyclotomic": "number",
+        "cyclotomic_parts": "polynomial"},
+    "wholerises.base.tables": {
+        "is_table": "value", "unit_table": "size", "table_product": "one other", "table_power": "table exponent",
+        "turned_over": "table", "rank": "table", "kernel": "table", "determinant": "table", "minors": "table",
+        "is_symmetric": "table", "is_alternating": "table"},
+    "wholerises.row.quotients": {"is_beginning": "row value"},
+    "wholerises.stair.stairs": {
+        "depth": "row ratio", "jump": "row number", "stairs": "row", "each_stair": "row", "stair_of": "row ratio",
+        "stairs_at": "row number", "least_depth": "row", "greatest_depth": "row", "lengths": "row",
+        "row_of_stairs": "value"},
+    "wholerises.stair.wholes": {
+        "is_whole": "row", "fault": "row", "witness": "row prime", "is_witness": "row prime value",
+        "first_broken": "row number", "broken_primes": "row number", "exponents_at": "row number",
+        "each_witness": "row"}}
+METHODS = {
+    Quotient: {
+        "binomial": "one other", "of_members": "members", "value": "self number", "exponent": "self prime number",
+        "step": "self number", "each_value": "self", "exchanged": "self", "divided": "self"},
+    Forms: {
+        "value": "self one other", "exponent": "self prime one other", "depth": "self x y", "points": "self",
+        "is_whole": "self", "fault": "self", "is_fault": "self value", "witness": "self prime",
+        "is_witness": "self prime value", "along": "self one other", "swapped": "self"}}
+SIGNS = {Quotient: "__init__ __mul__ __add__ __eq__ __len__ __iter__ __contains__ __str__",
+         Forms: "__init__ __eq__ __len__ __contains__ __str__"}
+PROPERTIES = {Quotient: "tops bottoms members greatest common excess height is_balanced",
+              Forms: "tops bottoms excesses"}
+GENERATORS = ("each_stair", "each_witness")
+
+
+class Interface(Case):
+
+    def test_functions(self):
+        for name, told in FUNCTIONS.items():
+            module = importlib.import_module(name)
+            for function, parameters in told.items():
+                found = getattr(module, function)
+                self.assertEqual((found.__module__, inspect.isfunction(found)), (name, True))
+                self.assertEqual(" ".join(inspect.signature(found).parameters), parameters, function)
+                self.assertEqual(inspect.isgeneratorfunction(found), function in GENERATORS, function)
+
+    def test_classes(self):
+        for kind, told in METHODS.items():
+            self.assertEqual(" ".join(inspect.signature(kind).parameters), "tops bottoms")
+            for method, parameters in told.items():
+                found = kind.__dict__[method]
+                self.assertEqual(" ".join(inspect.signature(getattr(kind, method)).parameters), parameters, method)
+                self.assertEqual(isinstance(found, classmethod), not parameters.startswith("self"))
+                self.assertEqual(inspect.isgeneratorfunction(found), method == "each_value")
+            for method in SIGNS[kind].split():
+                self.assertIn(method, kind.__dict__)
+            for name in PROPERTIES[kind].split():
+                self.assertIsInstance(kind.__dict__[name], property)
+
+    def test_each_function_with_a_row_refuses_what_is_none(self):
+        behind = {"ratio": (1, 2), "number": 1, "prime": 17, "value": None}
+        for name, told in FUNCTIONS.items():
+            for function, parameters in told.items():
+                if parameters.startswith("row"):
+                    action = getattr(importlib.import_module(name), function)
+                    rest = [behind[parameter] for parameter in parameters.split()[1:]]
+                    for value in NO_ROWS:
+                        if function in GENERATORS:
+                            self.refused(InvalidRow, next, action(value))
+                        else:
+                            self.refused(InvalidRow, action, value, *rest)
+
+    def test_attributes_are_not_assigned(self):
+        for kind, made in ((Quotient, MIDDLE), (Forms, CATALAN)):
+            for name in PROPERTIES[kind].split():
+                self.refused(AttributeError, setattr, made, name, ())

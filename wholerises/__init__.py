@@ -1,0 +1,1 @@
+"""Quotients of factorials that are integers for every n."""

@@ -1,0 +1,1 @@
+"""Quotient rows."""

@@ -1,0 +1,1 @@
+"""Depths: stairs, whole rows, and forms in two letters."""
