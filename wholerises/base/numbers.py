@@ -43,8 +43,11 @@ def is_prime(value):
     """Whether the value is a prime number of at most 10 ** 6."""
     if not is_between(value, 2, MAX_PRIME):
         return False
-    for divisor in range(2, isqrt(value) + 1):
-        if value % divisor == 0:
+    if value < 5 or value % 2 == 0 or value % 3 == 0:
+        return value < 4
+    # Each other divisor leaves 5 or 1 by 6, as all primes above 3 do.
+    for divisor in range(5, isqrt(value) + 1, 6):
+        if value % divisor == 0 or value % (divisor + 2) == 0:
             return False
     return True
 
@@ -69,7 +72,7 @@ def prime_factors(number):
         while left % divisor == 0:
             found[divisor] = found.get(divisor, 0) + 1
             left = left // divisor
-        divisor = divisor + 1
+        divisor = divisor + 1 if divisor == 2 else divisor + 2
     if left > 1:
         found[left] = 1
     return found
@@ -84,6 +87,54 @@ def moebius(number):
             return 0
         sign = -sign
     return sign
+
+
+def sign_divisors(number):
+    """The list of the pairs (divisor, sign number of the rest) of an integer above 0, but those with the sign 0."""
+    found = [(number, 1)]
+    for prime in prime_factors(number):
+        found = found + [(divisor // prime, -sign) for divisor, sign in found]
+    return found
+
+
+def totient(number):
+    """How many units an integer above 0 has."""
+    many = number
+    for prime in prime_factors(number):
+        many = many // prime * (prime - 1)
+    return many
+
+
+def divisors_of(number):
+    """The list of the divisors of an integer above 0."""
+    low = [divisor for divisor in range(1, isqrt(number) + 1) if number % divisor == 0]
+    return low + [number // divisor for divisor in low if divisor * divisor != number]
+
+
+def inverse(number, modulus):
+    """The integer from 0 to modulus - 1 that undoes a number without a common divisor with the modulus."""
+    before = modulus
+    behind = number % modulus
+    undone = 0
+    made = 1
+    while behind > 1:
+        whole = before // behind
+        before, behind = behind, before - whole * behind
+        undone, made = made, undone - whole * made
+    return made % modulus
+
+
+def power_of(base, exponent):
+    """The power of an integer, for an exponent of at least 0."""
+    power = 1
+    square = base
+    left = exponent
+    while left > 0:
+        if left % 2 == 1:
+            power = power * square
+        square = square * square
+        left = left // 2
+    return power
 
 
 def units_of(number):

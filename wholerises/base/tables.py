@@ -94,9 +94,13 @@ def rank(table):
 def kernel(table):
     """The kernel, an echelon, perhaps without rows."""
     check_table(table)
+    return kernel_of(table, len(table[0]))
+
+
+def kernel_of(table, width):
+    """The kernel of rows of integers of any size, perhaps of no rows, each of them as long as the width tells."""
     lines = echelon(table)
     leads = [lead_of(line) for line in lines]
-    width = len(table[0])
     return echelon([kernel_row(lines, leads, index, width) for index in range(width) if index not in leads])
 
 

@@ -1,0 +1,1 @@
+"""Places round the circle, of quotient rows and of rising rows."""

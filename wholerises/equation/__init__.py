@@ -1,0 +1,1 @@
+"""Equations of algebraic rows."""

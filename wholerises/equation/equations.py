@@ -1,0 +1,240 @@
+"""Equations: polynomials in two letters that become 0 with the power series of an algebraic row."""
+
+from math import comb, lcm
+
+from wholerises.base.numbers import check_number, divisor_of_all, is_between, is_integer, is_long_integer, power_of
+from wholerises.base.polynomials import divided
+from wholerises.base.ratios import reduced
+from wholerises.circle.products import parts_of, products_in
+from wholerises.errors import InvalidEquation, InvalidOperation, TooMany
+from wholerises.kept.companions import orbit_within
+from wholerises.row.quotients import MOST_FACTORIAL, check_row
+from wholerises.stair.wholes import is_whole
+
+MOST_Z = 3
+MOST_Y = 6
+MOST_SHEETS = 2000
+MOST_SERIES = 60
+MOST_ROOT = 24
+
+
+def check_many(row, many):
+    """Raises InvalidNumber or TooMany unless so many numbers of the row are let."""
+    check_number(many, 1, MOST_SERIES)
+    if row.greatest * (many - 1) > MOST_FACTORIAL:
+        raise TooMany(MOST_FACTORIAL)
+
+
+def series(row, many):
+    """The tuple of the numbers u(0) to u(many - 1), ratios."""
+    check_row(row)
+    check_many(row, many)
+    return tuple([row.value(number) for number in range(many)])
+
+
+def is_algebraic_here(row):
+    """Whether the row is balanced and whole, and its height is 1."""
+    return row.is_balanced and row.height == 1 and is_whole(row)
+
+
+def sheets_within(row, most):
+    """The sheets of a row, 0 if it is not algebraic, or None if there are more than `most`."""
+    if not is_algebraic_here(row):
+        return 0
+    one, other = products_in(parts_of(row))
+    # The companion of Q keeps what Q is without its factor x - 1.
+    found = orbit_within(divided(other, (-1, 1)), (one, other), most)
+    return None if found is None else len(found)
+
+
+def sheets(row):
+    """The sheets; 0 for a row that is not algebraic."""
+    check_row(row)
+    found = sheets_within(row, MOST_SHEETS)
+    if found is None:
+        raise TooMany(MOST_SHEETS)
+    return found
+
+
+def numbers_to(row, many):
+    """The list of the numbers u(0) to u(many - 1) of a whole row."""
+    return [row.value(number)[0] for number in range(many)]
+
+
+def multiplied(one, other, scales):
+    """The product of two series, their integers being the coefficients, multiplied by the scales."""
+    if scales[-1] == 1:
+        return [sum([one[index] * other[place - index] for index in range(place + 1)]) for place in range(len(one))]
+    return [sum([one[index] * other[place - index] * (scales[place] // (scales[index] * scales[place - index]))
+                 for index in range(place + 1)]) for place in range(len(one))]
+
+
+def told_by(degree_z, degree_y, leaves):
+    """How many first coefficients of a defect, being 0, tell that it is 0, for a row with so many sheets."""
+    return leaves * (2 * degree_z + degree_y) // 2 + 1
+
+
+def least_equation(row):
+    """The least equation of the row, or None."""
+    check_row(row)
+    leaves = sheets_within(row, MOST_Y)
+    if not leaves:
+        return None
+    many = told_by(MOST_Z, leaves, leaves)
+    numbers = numbers_to(row, many)
+    powers = [[1] + [0] * (many - 1)]
+    for _ in range(leaves):
+        powers.append(multiplied(powers[-1], numbers, [1]))
+    # The first column that is told by the ones ahead of it makes the equation with the least degree in z.
+    pairs = [(i, j) for i in range(MOST_Z + 1) for j in range(leaves + 1)]
+    found = first_relation([[0] * i + powers[j][:many - i] for i, j in pairs])
+    if found is None:
+        return None
+    return with_sign({pair: item for pair, item in zip(pairs, found) if item != 0})
+
+
+def first_relation(columns):
+    """The integers by which the first columns are multiplied and added up to 0, as few as can be, or None."""
+    pivots = []
+    for many, column in enumerate(columns):
+        left = column
+        factors = [0] * many + [1]
+        for place, line, multiples in pivots:
+            if left[place] != 0:
+                one, other = line[place], left[place]
+                left = [one * item - other * more for item, more in zip(left, line)]
+                multiples = multiples + [0] * (len(factors) - len(multiples))
+                factors = [one * item - other * more for item, more in zip(factors, multiples)]
+        divisor = divisor_of_all(left + factors)
+        left = [item // divisor for item in left]
+        factors = [item // divisor for item in factors]
+        if not any(left):
+            return factors
+        pivots.append(([item != 0 for item in left].index(True), left, factors))
+    return None
+
+
+def with_sign(equation):
+    """The equation or its opposite: the integer at the greatest j, and there at the greatest i, is above 0."""
+    last = max([(j, i) for i, j in equation])
+    if equation[(last[1], last[0])] > 0:
+        return equation
+    return {pair: -equation[pair] for pair in equation}
+
+
+def equation_of(row):
+    """An equation of the row, or None."""
+    return least_equation(row)
+
+
+def each_equation(row):
+    """Yields the least equation, multiplied by the powers of y, as long as no degree is too great."""
+    least = least_equation(row)
+    if least is not None:
+        for power in range(MOST_Y + 1 - max([j for i, j in least])):
+            yield {(i, j + power): least[(i, j)] for i, j in least}
+
+
+def is_exponent_pair(value):
+    """Whether the value is a pair of the exponents of z and y."""
+    if not isinstance(value, tuple) or len(value) != 2:
+        return False
+    return is_between(value[0], 0, MOST_Z) and is_between(value[1], 0, MOST_Y)
+
+
+def is_long_equation(value):
+    """Whether the value is a dict that tells a polynomial in two letters, with integers of any size."""
+    if not isinstance(value, dict) or not all([is_exponent_pair(pair) for pair in value]):
+        return False
+    return all([is_long_integer(item) for item in value.values()]) and any(list(value.values()))
+
+
+def check_equation(equation):
+    """Raises InvalidEquation unless a polynomial in two letters is given."""
+    if not is_long_equation(equation) or not all([is_integer(item) for item in equation.values()]):
+        raise InvalidEquation("no polynomial in two letters")
+
+
+def is_equation(row, value):
+    """Whether the value is an equation of the row."""
+    check_row(row)
+    if not is_long_equation(value):
+        return False
+    leaves = sheets_within(row, MOST_Y)
+    if not leaves:
+        return False
+    told = [(i, j) for i, j in value if value[(i, j)] != 0]
+    many = told_by(max([i for i, j in told]), max([j for i, j in told]), leaves)
+    return not any(defect_of(numbers_to(row, many), [1] * many, value))
+
+
+def defect_of(numbers, scales, equation):
+    """The first coefficients of the defect, multiplied by the scales, for a series that is told likewise."""
+    many = len(numbers)
+    total = [0] * many
+    for power in reversed(range(MOST_Y + 1)):
+        if any(total):
+            total = multiplied(total, numbers, scales)
+        for i in range(min(many, MOST_Z + 1)):
+            total[i] = total[i] + equation.get((i, power), 0) * scales[i]
+    return total
+
+
+def scales_of(told):
+    """The least integers above 0 that make integers of all ratios and of the coefficients of powers of the series."""
+    scales = [1]
+    for place in range(1, len(told)):
+        scale = told[place][1]
+        for index in range(1, place // 2 + 1):
+            product = scales[index] * scales[place - index]
+            if scale % product != 0:
+                scale = lcm(scale, product)
+        scales.append(scale)
+    return scales
+
+
+def defect(row, equation, many):
+    """The tuple of the first coefficients of the defect, ratios."""
+    check_row(row)
+    check_equation(equation)
+    check_many(row, many)
+    told = series(row, many)
+    scales = scales_of(told)
+    numbers = [top * (scale // bottom) for (top, bottom), scale in zip(told, scales)]
+    return tuple([reduced(item, scale) for item, scale in zip(defect_of(numbers, scales, equation), scales)])
+
+
+def at_one(equation):
+    """The dict of the polynomial that the equation becomes with y + 1 in the place of y."""
+    moved = {}
+    for (i, j), item in equation.items():
+        for power in range(j + 1):
+            moved[(i, power)] = moved.get((i, power), 0) + item * comb(j, power)
+    return moved
+
+
+def root_of(equation, many):
+    """The tuple of the first coefficients of the root, ratios."""
+    check_equation(equation)
+    check_number(many, 1, MOST_ROOT)
+    moved = at_one(equation)
+    slope = moved.get((0, 1), 0)
+    if moved.get((0, 0), 0) != 0 or slope == 0:
+        raise InvalidOperation("the polynomial has no such root")
+    # With slope ** 2 * z in the place of z, and with slope * y, all is divisible by slope ** 2: the root is whole.
+    terms = [(i, j, item * power_of(slope, 2 * i + j - 2))
+             for (i, j), item in moved.items() if item != 0 and 2 * i + j >= 2]
+    whole = whole_root(terms, many)
+    return ((1, 1),) + tuple([reduced(whole[place], power_of(slope, 2 * place - 1)) for place in range(1, many)])
+
+
+def whole_root(terms, many):
+    """The first coefficients of the series without the coefficient 0 that is less than 0 by all terms put to it."""
+    most = max([j for i, j, item in terms] + [1])
+    powers = [[1] + [0] * (many - 1)] + [[0] * many for _ in range(most)]
+    for place in range(1, many):
+        for power in range(2, most + 1):
+            powers[power][place] = sum(
+                [powers[1][index] * powers[power - 1][place - index] for index in range(1, place)])
+        powers[1][place] = -sum([item * powers[j][place - i] for i, j, item in terms if i <= place])
+    return powers[1]

@@ -1,0 +1,1 @@
+"""The companions of a row, and the table that they keep."""

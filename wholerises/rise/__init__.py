@@ -1,0 +1,1 @@
+"""Rising rows, and their walks at all units."""
