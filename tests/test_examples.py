@@ -1,6 +1,13 @@
 """The examples of the document, stage by stage, as they stand there."""
 
 from wholerises.base import numbers, polynomials, ratios, tables
+from wholerises.circle import products, walks
+from wholerises.equation import equations
+from wholerises.group import groups
+from wholerises.kept import companions
+from wholerises.kept import tables as kept_tables
+from wholerises.rest import operators
+from wholerises.rise import risings, units
 from wholerises.row import quotients
 from wholerises.stair import cells, stairs, wholes
 from tests.support import BROKEN, CHEBYSHEV, FIVE, MIDDLE, TURNED, Case
@@ -94,6 +101,127 @@ CELLS = """
 raises TooMany(600)
 """
 
+PRODUCTS = """
+>>> [parts(row) for row in (MIDDLE, CHEBYSHEV, FIVE)]
+[{1: -1, 2: 1}, {1: -1, 2: -1, 3: -1, 5: -1, 30: 1}, {1: -4, 5: 1}]
+>>> [products(MIDDLE), products(CHEBYSHEV), products(Quotient((3,), (2, 1)))]
+[((1, 1), (-1, 1)), ((1, 1, 0, -1, -1, -1, 0, 1, 1), (-1, -2, -2, -1, 0, 1, 2, 2, 1)), ((1, 1, 1), (-1, 0, 1))]
+>>> places(Quotient((4,), (2, 2))), [pair for pair in each_place(MIDDLE)], degree_of(CHEBYSHEV), has_place(CHEBYSHEV, (7, 30))
+((((1, 4), (3, 4)), ((1, 2), (1, 1))), [((1, 2), 1), ((1, 1), -1)], 8, True)
+>>> [row_of_parts({1: -1, 2: 1}) == MIDDLE, row_of_products((1, 1), (-1, 1)) == MIDDLE, row_of_products((1, 1), (1, 0, 2)), half_turned(MIDDLE) == TURNED]
+[True, True, None, True]
+>>> [depth_by_places(MIDDLE, ratio) for ratio in ((1, 2), (7, 4), (0, 1))], depth_by_places(Quotient((2,), (1,)), (7, 4))
+([1, 1, 0], 2)
+>>> row_of_parts({1: 0})
+raises InvalidOperation
+"""
+
+RISINGS = """
+>>> HALF = Rising(((1, 2),), ((1, 1),))
+>>> MIXED = Rising(((2, 3), (1, 3)), ((1, 1), (1, 2)))
+>>> [HALF.value(2), HALF.factor(2), HALF.exponent(2, 5), HALF.exponent(3, 5), rising_product((1, 2), 3), str(MIXED), MIXED.common]
+[(3, 8), (5, 6), -8, 2, (15, 8), 'rising 1/3 2/3 over 1/2 1/1', 6]
+>>> THIRD = Rising(((1, 3),), ((1, 1),))
+>>> [rising_of(MIDDLE) == (HALF, (4, 1)), quotient_of(HALF) == MIDDLE, quotient_of(THIRD), rising_of(FIVE)[1], str(THIRD.step(5)), THIRD.undoing(7), len(THIRD.steps(2)), len(THIRD.steps(7))]
+[True, True, None, (3125, 1), 'rising 2/3 over 1/1', 1, 2, 1]
+>>> [MIXED.image(5) == MIXED, THIRD.image(2).tops, list(HALF), THIRD.exponent(2, 10 ** 30) >= 0, len(MIXED)]
+[True, ((2, 3),), [((1, 2), 1), ((1, 1), -1)], True, 2]
+>>> HALF.step(2)
+raises InvalidOperation
+>>> rising_of(BROKEN)[1]
+(64, 27)
+"""
+
+UNITS = """
+>>> from wholerises.rise.risings import Rising
+>>> HALF, THIRD = Rising(((1, 2),), ((1, 1),)), Rising(((1, 3),), ((1, 2),))
+>>> [walk(HALF, 1), walk(THIRD, 1), walk(THIRD, 5), [unit for unit, steps in each_walk(THIRD)]]
+[(((1, 2), 1), ((1, 1), 0)), (((1, 3), 1), ((1, 2), 0)), (((1, 2), -1), ((2, 3), 0)), [1, 5]]
+>>> [is_whole_up_to_powers(HALF), constant(HALF), broken_units(THIRD), rising_fault(THIRD), is_rising_fault(THIRD, (1, (1, 2))), worst_height(THIRD)]
+[True, 16, (5,), (5, (1, 2)), False, (-1, 5)]
+>>> [rising_witness(THIRD, 11), THIRD.exponent(11, 6), THIRD.exponent(11, 5)]
+[6, -1, 0]
+>>> rising_witness(THIRD, 7)
+raises Refused(("unit", 1))
+>>> constant(THIRD)
+raises Refused(("fault", (5, (1, 2))))
+"""
+
+WALKS = """
+>>> from wholerises.rise.risings import Rising
+>>> HALF_WAY = Rising(((1, 5), (4, 5)), ((2, 5), (1, 1)))
+>>> [alternating_units(HALF_WAY), [difference_of_signs(HALF_WAY, unit) for unit in (1, 2, 3, 4)], does_alternate_at_all(HALF_WAY), least_difference(HALF_WAY), HALF_WAY.image(2).tops]
+[(1, 4), [2, 0, 0, 2], False, (2, 0), ((2, 5), (3, 5))]
+>>> PAIRED = Rising(((1, 12), (7, 12)), ((1, 2), (1, 1)))
+>>> [does_alternate_at_all(PAIRED), [mate.tops for mate in each_mate(PAIRED)], turned(PAIRED, (-1, 12)).tops, turned(PAIRED, (5, 2)) == PAIRED]
+[True, [((1, 12), (7, 12)), ((5, 12), (11, 12))], ((1, 2), (1, 1)), True]
+>>> MIXED = Rising(((1, 2), (1, 3)), ((1, 1), (1, 4)))
+>>> [difference_of_signs(MIXED, 1), difference_of_signs(turned(MIXED, (1, 6)), 1), len(list(each_mate(MIXED))), turned(MIXED, (1, 6)).bottoms]
+[0, 0, 4, ((1, 6), (5, 12))]
+>>> [pairs_at_all(4), [len(pairs_at_all(number)) for number in (2, 5, 6, 8, 10, 12, 30)], pairs_at_all(6)[0]]
+[(((1, 4), (3, 4), (1, 2)),), [0, 0, 10, 6, 20, 30, 72], ((1, 6), (1, 2), (1, 3))]
+>>> does_alternate(HALF_WAY, 5)
+raises InvalidNumber(5)
+"""
+
+COMPANIONS = """
+>>> THREE = Quotient((3,), (2, 1))
+>>> [companions(THREE), step_table(THREE), kept_line(THREE), is_definite(kept_table(THREE))]
+[(((0, -1), (1, -1)), ((0, 1), (1, 0))), ((1, -1), (0, -1)), (2, -1), True]
+>>> FOUR = Quotient((4,), (1, 1, 1, 1))
+>>> [kept_table(FOUR), signs_of(kept_table(FOUR)), sign_difference(FOUR), is_low_row(FOUR, (1, 0, 1)), is_low_row(FOUR, (1, 0, 0))]
+[((3, 1, -5), (1, 3, 1), (-5, 1, 3)), (2, 1, 0), 1, True, False]
+>>> [kept_line(FIVE), kept_table(BROKEN), kept_table(TURNED), is_kept(THREE, ((-4, 2), (2, -4))), is_kept(THREE, ((0, 0), (0, 0))), low_row(MIDDLE)]
+[(0, 1, 1, -1), ((0, 1), (-1, 0)), ((1,),), True, False, None]
+>>> [back_table(((0, -1), (1, -1))), does_keep(((0, 1), (1, 0)), ((2, -1), (-1, 2))), signs_of(kept_table(CHEBYSHEV))]
+[((-1, 1), (-1, 0)), True, (8, 0, 0)]
+>>> sign_difference(FIVE)
+raises InvalidOperation
+"""
+
+GROUPS = """
+>>> FOUR, SIX, SHORT = Quotient((4,), (3, 1)), Quotient((6,), (3, 3)), Quotient((3,), (2, 1))
+>>> [group_size(row) for row in (MIDDLE, SHORT, FOUR, SIX, BROKEN, TURNED)], is_finite_group(FIVE)
+([2, 6, 24, 24, None, 2], False)
+>>> order_counts(FOUR), order_counts(SIX), len(reflections(FOUR)), reflections(MIDDLE)
+({1: 1, 2: 9, 3: 8, 4: 6}, {1: 1, 2: 7, 3: 8, 6: 8}, 6, (((-1,),),))
+>>> list(each_element(SHORT))[:3], matrix_of_word(SHORT, "Ab"), word_of(MIDDLE, ((2,),))
+([((1, 0), (0, 1)), ((0, -1), (1, -1)), ((-1, 1), (-1, 0))], ((1, -1), (0, -1)), None)
+>>> orbit(SHORT, (1, 0)), is_word(SHORT, ((1, 0), (0, 1)), "bb"), is_word(BROKEN, ((0, -1), (1, 0)), "a")
+(((-1, -1), (0, 1), (1, 0)), True, True)
+>>> order_counts(FIVE)
+raises InvalidOperation
+"""
+
+EQUATIONS = """
+>>> SQUARE, DOUBLE = {(0, 0): 1, (0, 2): -1, (1, 2): 4}, Quotient((4,), (2, 2))
+>>> [series(MIDDLE, 4), sheets(MIDDLE), sheets(DOUBLE), sheets(FIVE), sheets(Quotient((6, 1), (3, 2, 2)))]
+[((1, 1), (2, 1), (6, 1), (20, 1)), 2, 4, 0, 6]
+>>> [is_equation(MIDDLE, SQUARE), is_equation(DOUBLE, SQUARE), defect(DOUBLE, SQUARE, 3), equation_of(TURNED), root_of(SQUARE, 4)]
+[True, False, ((0, 1), (-8, 1), (-128, 1)), None, ((1, 1), (2, 1), (6, 1), (20, 1))]
+>>> least_equation(MIDDLE), least_equation(Quotient((3,), (2, 1)))
+({(0, 0): 1, (0, 2): -1, (1, 2): 4}, {(0, 0): 1, (0, 1): 3, (0, 3): -4, (1, 3): 27})
+>>> [len(list(each_equation(MIDDLE))), is_equation(CHEBYSHEV, {(0, 0): 0, (1, 1): 2}), equation_of(FIVE)]
+[5, False, None]
+>>> root_of({(0, 2): 1, (0, 1): -2, (0, 0): 1}, 3)
+raises InvalidOperation
+"""
+
+OPERATORS = """
+>>> from wholerises.rise.risings import Rising
+>>> HALF = Rising(((1, 2),), ((1, 1),))
+>>> THIRDS, TWICE = Rising(((1, 3), (2, 3)), ((1, 2), (1, 1))), Rising(((1, 2), (1, 2)), ((1, 1), (1, 1)))
+>>> [operator(HALF), applied(HALF, ((1, 1), (1, 2), (3, 8)))]
+[(((0, 1), (1, 1)), ((1, 2), (1, 1))), ((0, 1), (0, 1), (0, 1))]
+>>> [ends_at(THIRDS, 7), solutions(THIRDS, 7), is_flat(THIRDS, 7), solutions(HALF, 3), ends_at(TWICE, 5), is_flat(TWICE, 5), solutions(TWICE, 5)]
+[((0, 4), (2, 4)), ((1, 2, 2), (0, 0, 0, 0, 1)), True, ((1, 2),), ((0, 0), (2, 2)), False, ((1, 4, 1),)]
+>>> [p_curve(HALF, 3), p_curve(TWICE, 5)[0], is_solution(TWICE, 5, (1, 4, 1)), is_solution(TWICE, 5, (1, 4))]
+[(((0,),),), ((0, 4, 4, 4, 0, 3), (4, 3, 0, 0, 2, 1)), True, False]
+>>> is_flat(THIRDS, 5)
+raises InvalidOperation
+"""
+
+
 class Examples(Case):
 
     def check(self, text, *modules):
@@ -128,3 +256,27 @@ class Examples(Case):
 
     def test_cells(self):
         self.check(CELLS, cells)
+
+    def test_products(self):
+        self.check(PRODUCTS, quotients, products)
+
+    def test_risings(self):
+        self.check(RISINGS, risings)
+
+    def test_units(self):
+        self.check(UNITS, units)
+
+    def test_walks(self):
+        self.check(WALKS, walks)
+
+    def test_companions(self):
+        self.check(COMPANIONS, quotients, companions, kept_tables)
+
+    def test_groups(self):
+        self.check(GROUPS, quotients, groups)
+
+    def test_equations(self):
+        self.check(EQUATIONS, quotients, equations)
+
+    def test_operators(self):
+        self.check(OPERATORS, operators)

@@ -3,10 +3,11 @@
 import importlib
 import inspect
 
-from wholerises.errors import InvalidRow
+from wholerises.errors import InvalidRising, InvalidRow
+from wholerises.rise.risings import Rising
 from wholerises.row.quotients import Quotient
 from wholerises.stair.cells import Forms
-from tests.support import CATALAN, MIDDLE, NO_ROWS, Case
+from tests.support import CATALAN, HALF, MIDDLE, NO_RISINGS, NO_ROWS, Case
 
 FUNCTIONS = {
     "wholerises.base.numbers": {
@@ -32,7 +33,37 @@ FUNCTIONS = {
     "wholerises.stair.wholes": {
         "is_whole": "row", "fault": "row", "witness": "row prime", "is_witness": "row prime value",
         "first_broken": "row number", "broken_primes": "row number", "exponents_at": "row number",
-        "each_witness": "row"}}
+        "each_witness": "row"},
+    "wholerises.circle.products": {
+        "parts": "row", "row_of_parts": "parts", "degree_of": "row", "products": "row", "row_of_products": "one other",
+        "places": "row", "each_place": "row", "has_place": "row value", "depth_by_places": "row ratio",
+        "half_turned": "row"},
+    "wholerises.rise.risings": {
+        "rising_product": "ratio number", "rising_of": "row", "quotient_of": "rising"},
+    "wholerises.rise.units": {
+        "walk": "rising unit", "each_walk": "rising", "broken_units": "rising", "is_whole_up_to_powers": "rising",
+        "rising_fault": "rising", "is_rising_fault": "rising value", "rising_witness": "rising prime",
+        "constant": "rising", "worst_height": "rising"},
+    "wholerises.circle.walks": {
+        "each_mate": "rising", "turned": "rising ratio", "does_alternate": "rising unit",
+        "does_alternate_at_all": "rising", "alternating_units": "rising", "difference_of_signs": "rising unit",
+        "least_difference": "rising", "pairs_at_all": "number"},
+    "wholerises.kept.companions": {
+        "companion": "polynomial", "companions": "row", "step_table": "row", "kept_line": "row", "kept_table": "row",
+        "is_kept": "row value", "sign_difference": "row"},
+    "wholerises.kept.tables": {
+        "back_table": "table", "does_keep": "table other", "signs_of": "table", "is_definite": "table",
+        "low_row": "row", "is_low_row": "row value"},
+    "wholerises.group.groups": {
+        "is_finite_group": "row", "group_size": "row", "each_element": "row", "matrix_of_word": "row word",
+        "word_of": "row matrix", "is_word": "row matrix value", "order_counts": "row", "reflections": "row",
+        "orbit": "row vector"},
+    "wholerises.equation.equations": {
+        "series": "row many", "sheets": "row", "equation_of": "row", "least_equation": "row",
+        "is_equation": "row value", "defect": "row equation many", "root_of": "equation many", "each_equation": "row"},
+    "wholerises.rest.operators": {
+        "operator": "rising", "applied": "rising coefficients", "ends_at": "rising prime", "is_flat": "rising prime",
+        "solutions": "rising prime", "is_solution": "rising prime value", "p_curve": "rising prime"}}
 METHODS = {
     Quotient: {
         "binomial": "one other", "of_members": "members", "value": "self number", "exponent": "self prime number",
@@ -40,12 +71,16 @@ METHODS = {
     Forms: {
         "value": "self one other", "exponent": "self prime one other", "depth": "self x y", "points": "self",
         "is_whole": "self", "fault": "self", "is_fault": "self value", "witness": "self prime",
-        "is_witness": "self prime value", "along": "self one other", "swapped": "self"}}
+        "is_witness": "self prime value", "along": "self one other", "swapped": "self"},
+    Rising: {
+        "value": "self number", "factor": "self number", "exponent": "self prime number", "image": "self unit",
+        "undoing": "self prime", "step": "self prime", "steps": "self prime"}}
 SIGNS = {Quotient: "__init__ __mul__ __add__ __eq__ __len__ __iter__ __contains__ __str__",
-         Forms: "__init__ __eq__ __len__ __contains__ __str__"}
+         Forms: "__init__ __eq__ __len__ __contains__ __str__",
+         Rising: "__init__ __eq__ __len__ __iter__ __str__"}
 PROPERTIES = {Quotient: "tops bottoms members greatest common excess height is_balanced",
-              Forms: "tops bottoms excesses"}
-GENERATORS = ("each_stair", "each_witness")
+              Forms: "tops bottoms excesses", Rising: "tops bottoms common"}
+GENERATORS = ("each_stair", "each_witness", "each_place", "each_walk", "each_mate", "each_element", "each_equation")
 
 
 class Interface(Case):
@@ -73,19 +108,26 @@ class Interface(Case):
                 self.assertIsInstance(kind.__dict__[name], property)
 
     def test_each_function_with_a_row_refuses_what_is_none(self):
-        behind = {"ratio": (1, 2), "number": 1, "prime": 17, "value": None}
+        self.refuse_all("row", InvalidRow, NO_ROWS)
+        self.refuse_all("rising", InvalidRising, NO_RISINGS)
+
+    def refuse_all(self, first, wanted, values):
+        """Each function with such a first parameter refuses the values, whatever stands behind."""
+        behind = {"ratio": (1, 2), "number": 1, "prime": 17, "value": None, "unit": 1, "many": 1, "word": "a",
+                  "matrix": ((1,),), "vector": (1,), "equation": {(0, 0): 1}, "coefficients": ((1, 2),)}
         for name, told in FUNCTIONS.items():
             for function, parameters in told.items():
-                if parameters.startswith("row"):
+                if parameters.split()[0] == first:
                     action = getattr(importlib.import_module(name), function)
                     rest = [behind[parameter] for parameter in parameters.split()[1:]]
-                    for value in NO_ROWS:
+                    for value in values:
                         if function in GENERATORS:
-                            self.refused(InvalidRow, next, action(value))
+                            self.refused(wanted, next, action(value))
                         else:
-                            self.refused(InvalidRow, action, value, *rest)
+                            self.refused(wanted, action, value, *rest)
+                            self.refused(wanted, action, value, *[None for _ in rest])
 
     def test_attributes_are_not_assigned(self):
-        for kind, made in ((Quotient, MIDDLE), (Forms, CATALAN)):
+        for kind, made in ((Quotient, MIDDLE), (Forms, CATALAN), (Rising, HALF)):
             for name in PROPERTIES[kind].split():
                 self.refused(AttributeError, setattr, made, name, ())

@@ -19,8 +19,8 @@ class Judges(Case):
 
     def test_is_prime(self):
         self.judges(is_prime, (2, 3, 5, 997, 999983), NO_PRIMES + (997 * 997, 1009 * 991, 25, 9))
-        for value in range(-10, 2000):
-            self.assertIs(is_prime(value), is_plain_prime(value), value)
+        for value in list(range(-10, 2000)) + list(range(999000, 10 ** 6 + 1)):
+            self.assertIs(is_prime(value), is_plain_prime(value) and value <= 10 ** 6, value)
 
 
 class Factors(Case):

@@ -1,8 +1,10 @@
 """[2.1], [2.2] and the functions of wholerises.base.polynomials."""
 
+import random
 from fractions import Fraction
 from itertools import product
 from math import gcd
+from time import perf_counter
 
 from wholerises.base import polynomials
 from wholerises.base.polynomials import (
@@ -33,6 +35,17 @@ def degree_of(number):
     return sum(1 for k in range(1, number + 1) if gcd(k, number) == 1)
 
 
+def drawn_parts(drawing, degree):
+    """A drawn dict that tells a product of cyclotomic polynomials of this degree."""
+    parts = {}
+    left = degree
+    while left > 0:
+        number = drawing.choice([number for number in DEGREES if DEGREES[number] <= left])
+        parts[number] = parts.get(number, 0) + 1
+        left -= DEGREES[number]
+    return dict(sorted(parts.items()))
+
+
 def product_of_parts(parts):
     """The product of cyclotomic polynomials."""
     made = (1,)
@@ -40,6 +53,9 @@ def product_of_parts(parts):
         for _ in range(times):
             made = plain_product(made, cyclotomic(number))
     return made
+
+
+DEGREES = {number: degree_of(number) for number in range(1, 700) if degree_of(number) <= 40}
 
 
 class Sums(Case):
@@ -169,6 +185,54 @@ class Parts(Case):
                       (1, 1, 2), LARGEST, (1,) + (0,) * 19 + (1,) + (0,) * 19 + (2,), (-1, -1),
                       (1, 0, 0, 0, 3) + (0,) * 35 + (1,), plain_product((1, 1, 1), (3, 1)), (1, 10 ** 59, 1)):
             self.assertIsNone(cyclotomic_parts(given), given)
+
+    def test_drawn_products(self):
+        drawing = random.Random(7)
+        for degree in list(range(1, 41)) * 4:
+            parts = drawn_parts(drawing, degree)
+            self.same(cyclotomic_parts(product_of_parts(parts)), parts)
+
+    def test_each_pair_of_numbers(self):
+        for one in DEGREES:
+            for other in DEGREES:
+                if one < other and DEGREES[one] + DEGREES[other] <= 40:
+                    given = polynomial_product(cyclotomic(one), cyclotomic(other))
+                    self.same(cyclotomic_parts(given), {one: 1, other: 1})
+
+    def test_neighbours_of_products(self):
+        drawing = random.Random(8)
+        for degree in list(range(1, 41)) * 4:
+            given = list(product_of_parts(drawn_parts(drawing, degree)))
+            given[drawing.randrange(degree)] += drawing.choice((-3, -2, -1, 1, 2, 2 ** 42, -10 ** 59))
+            found = cyclotomic_parts(tuple(given))
+            if found is not None:
+                self.assertEqual(product_of_parts(found), tuple(given))
+            if abs(given[0]) != 1:
+                self.assertIsNone(found)
+
+    def test_neighbours_that_agree_at_a_place(self):
+        for power in list(range(1, 44)) + [64, 128]:
+            for given in ((1, 1), (1, 1, 1), (1, 0, 0, 0, 1), cyclotomic(30), (1,) * 41):
+                moved = plain_product((-2 ** power, 1), (1,) if len(given) < 3 else (0, 1))
+                items = [item + more for item, more in zip(given, moved + (0,) * len(given))]
+                if items[-1] != 0 and is_polynomial(tuple(items)):
+                    self.assertIsNone(cyclotomic_parts(tuple(items)))
+
+    def test_others_at_the_ends(self):
+        for given in ((1, 0, -1), (-1, 0, -1), (1, 2 ** 41, 1), (1, -2 ** 40, 1), (1, 4, 6, 4, 2), (3, 4, 1),
+                      (1, -4, 1), (1, 5, 1), (1, 0, 3, 0, 1), (1, 1, 1, 1, 1, 1, 1, 1, 2, 1)):
+            self.assertIsNone(cyclotomic_parts(given), given)
+
+    def test_many_calls_do_not_take_long(self):
+        drawing = random.Random(9)
+        drawn = [drawn_parts(drawing, drawing.randrange(1, 17)) for _ in range(2000)]
+        given = [(parts, product_of_parts(parts)) for parts in drawn]
+        begin = perf_counter()
+        for parts, polynomial in given:
+            self.assertEqual(cyclotomic_parts(polynomial), parts)
+        for _ in range(300):
+            cyclotomic_parts((1,) + (0,) * 39 + (1,))
+        self.assertLess(perf_counter() - begin, 3)
 
     def test_a_factor_of_no_such_product_can_be_one(self):
         self.assertIsNone(cyclotomic_parts(polynomial_product((-1, 1), (-2, 1))))
