@@ -238,6 +238,20 @@ class Judged(Case):
         self.assertTrue(any(plain_defect(row, made, 40)))
         self.assertIs(is_equation(row, made), False)
 
+    def test_defects_that_begin_with_as_many_zeros_as_can_be(self):
+        longest = set()
+        for row, leaves in ((MIDDLE, 2), (Quotient((3,), (2, 1)), 3)):
+            for degree_z in range(4):
+                for degree_y in range(1, 7):
+                    bound = leaves * (2 * degree_z + degree_y) // 2
+                    for many in (bound, bound + 1):
+                        for made in relations(row, degree_z, degree_y, many):
+                            zeros = [item == 0 for item in plain_defect(row, made, 31)]
+                            self.assertIs(is_equation(row, made), all(zeros))
+                            if not all(zeros):
+                                longest.add(bound - zeros.index(False))
+        self.assertEqual(min(longest), 0)
+
     def test_others(self):
         for row in EQUATED:
             for value in NO_EQUATIONS + ({(0, 0): 1}, {(0, 1): 1}, {(3, 6): 1}, {(0, 0): -1, (0, 1): 1}):
@@ -250,9 +264,15 @@ class Judged(Case):
 
 def kernel_like(row):
     """A polynomial that is no equation, whose defect begins with many coefficients 0."""
-    pairs = [(i, j) for i in range(3) for j in range(5)]
-    columns = [plain_defect(row, {told: 1}, 12) for told in pairs]
-    basis = []
+    return relations(row, 2, 4, 12)[0]
+
+
+def relations(row, degree_z, degree_y, many):
+    """Polynomials with bounded degrees whose defects begin with so many coefficients 0."""
+    pairs = [(i, j) for i in range(degree_z + 1) for j in range(degree_y + 1)]
+    powers = {j: plain_defect(row, {(0, j): 1}, many) for j in range(degree_y + 1)}
+    columns = [([Fraction(0)] * i + powers[j])[:many] for i, j in pairs]
+    basis, found = [], []
     for at, column in enumerate(columns):
         left, told = list(column), [Fraction(int(k == at)) for k in range(len(pairs))]
         for place, line, made in basis:
@@ -263,9 +283,10 @@ def kernel_like(row):
             scale = 1
             for item in told:
                 scale = scale * item.denominator // gcd(scale, item.denominator)
-            return {key: int(item * scale) for key, item in zip(pairs, told) if item}
-        basis.append((next(k for k, item in enumerate(left) if item), left, told))
-    return {}
+            found.append({key: int(item * scale) for key, item in zip(pairs, told) if item})
+        else:
+            basis.append((next(k for k, item in enumerate(left) if item), left, told))
+    return found
 
 
 class Defects(Case):

@@ -220,6 +220,7 @@ class Words(Case):
         for size in (2, 3, 4):
             self.refused(InvalidOperation, is_word, MIDDLE, plain_unit(size), "c")
         self.refused(InvalidOperation, is_word, BROKEN, ((1,),), "a")
+        self.refused(InvalidRow, is_word, None, None, None)
 
 
 class Orders(Case):
@@ -265,6 +266,11 @@ class Orbits(Case):
                           for matrix in elements}
                 self.same(orbit(row, vector), tuple(sorted(wanted)))
                 self.assertEqual(len(elements) % len(wanted), 0)
+
+    def test_the_greatest_orbits(self):
+        for row in [row for row in FINITE if group_size(row) == 576][:2]:
+            found = orbit(row, (1, 10, 1000, 10 ** 6))
+            self.same((len(found), len(set(found))), (576, 576))
 
     def test_orbits_refuse(self):
         self.refused_each(InvalidRow, orbit, NO_ROWS, (1,))

@@ -268,6 +268,11 @@ class Solutions(Case):
         found = solutions(HALF, 7)[0]
         self.same(len(found), 4)
         self.assertIs(is_solution(HALF, 7, (0,) * 994 + found), True)
+        self.same([len(plain) for plain in plain_solutions(HALF, 2003)], [1002])
+        self.assertIs(is_solution(HALF, 2003, plain_solutions(HALF, 2003)[0]), False)
+        self.same([len(plain) for plain in plain_solutions(HALF, 1999)], [1000])
+        self.assertIs(is_solution(HALF, 1999, plain_solutions(HALF, 1999)[0]), True)
+        self.assertIs(is_solution(HALF, 3, (0,) * 999 + (1, 2)), True)
         found = (0,) * 1000 + (1,)
         prime = 999983
         self.assertIs(is_solution(HALF, prime, found), False)

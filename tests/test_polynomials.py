@@ -186,6 +186,12 @@ class Parts(Case):
                       (1, 0, 0, 0, 3) + (0,) * 35 + (1,), plain_product((1, 1, 1), (3, 1)), (1, 10 ** 59, 1)):
             self.assertIsNone(cyclotomic_parts(given), given)
 
+    def test_the_told_polynomials(self):
+        wanted = sorted((degree, number) for number, degree in DEGREES.items())
+        self.same([(degree, number) for number, degree, value in polynomials.CYCLOTOMIC], wanted)
+        for number, degree, value in polynomials.CYCLOTOMIC:
+            self.same(value, sum(item * 2 ** index for index, item in enumerate(cyclotomic(number))))
+
     def test_drawn_products(self):
         drawing = random.Random(7)
         for degree in list(range(1, 41)) * 4:

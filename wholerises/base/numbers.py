@@ -62,6 +62,15 @@ def sieved(most):
     return [number for number in range(2, most + 1) if marks[number]]
 
 
+def sieved_from(least, most):
+    """The ascending list of all primes from an integer of at least 2 to another one."""
+    marks = [True] * (most - least + 1)
+    for prime in sieved(isqrt(most)):
+        first = max(prime, (least + prime - 1) // prime) * prime
+        marks[first - least::prime] = [False] * ((most - first) // prime + 1)
+    return [number for number in range(least, most + 1) if marks[number - least]]
+
+
 def prime_factors(number):
     """The dict from the primes that divide the number to how often each one does."""
     check_number(number, 1, MAX_FACTORED)

@@ -74,8 +74,15 @@ def table_power(table, exponent):
     check_number(exponent, 0, MAX_EXPONENT)
     check_square(table)
     power = unit_table(len(table))
-    for _ in range(exponent):
-        power = product_of(power, table)
+    square = table
+    left = exponent
+    while left > 0:
+        if left % 2 == 1:
+            power = product_of(power, square)
+        left = left // 2
+        # The last square is not wanted, and it would be the greatest one.
+        if left > 0:
+            square = product_of(square, square)
     return power
 
 

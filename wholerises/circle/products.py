@@ -1,7 +1,7 @@
 """Products and places: the parts of a quotient row, and the turns at which its products are 0."""
 
 from wholerises.base.numbers import divisors_of, is_between, sign_divisors, totient, units_of
-from wholerises.base.polynomials import check_polynomials, cyclotomic_parts, cyclotomic_product
+from wholerises.base.polynomials import cyclotomic_parts, cyclotomic_product
 from wholerises.base.ratios import check_ratio, is_long_ratio
 from wholerises.errors import InvalidOperation, TooMany
 from wholerises.row.quotients import MAX_MEMBER, check_row, does_tell_row, row_of_members
@@ -88,7 +88,6 @@ def products_in(counts):
 
 def row_of_products(one, other):
     """The row whose products have the quotient of both polynomials, or None."""
-    check_polynomials(one, other)
     tops = cyclotomic_parts(one)
     bottoms = cyclotomic_parts(other)
     if tops is None or bottoms is None:

@@ -18,17 +18,12 @@ MOST_SERIES = 60
 MOST_ROOT = 24
 
 
-def check_many(row, many):
-    """Raises InvalidNumber or TooMany unless so many numbers of the row are let."""
-    check_number(many, 1, MOST_SERIES)
-    if row.greatest * (many - 1) > MOST_FACTORIAL:
-        raise TooMany(MOST_FACTORIAL)
-
-
 def series(row, many):
     """The tuple of the numbers u(0) to u(many - 1), ratios."""
     check_row(row)
-    check_many(row, many)
+    check_number(many, 1, MOST_SERIES)
+    if row.greatest * (many - 1) > MOST_FACTORIAL:
+        raise TooMany(MOST_FACTORIAL)
     return tuple([row.value(number) for number in range(many)])
 
 
@@ -197,7 +192,6 @@ def defect(row, equation, many):
     """The tuple of the first coefficients of the defect, ratios."""
     check_row(row)
     check_equation(equation)
-    check_many(row, many)
     told = series(row, many)
     scales = scales_of(told)
     numbers = [top * (scale // bottom) for (top, bottom), scale in zip(told, scales)]

@@ -1,9 +1,8 @@
 """Stairs: the depth of a quotient row from 0 on and below 1."""
 
-from math import gcd
-
-from wholerises.base.numbers import MAX_INTEGER, check_number, is_integer, moebius
+from wholerises.base.numbers import MAX_INTEGER, check_number, is_integer, sign_divisors, units_of
 from wholerises.base.ratios import check_ratio, is_ratio, reduced
+from wholerises.circle.products import parts_of
 from wholerises.errors import InvalidOperation
 from wholerises.row.quotients import MAX_COMMON, MAX_MEMBER, check_row, does_tell_row, row_of_members
 
@@ -34,14 +33,17 @@ def jump_of(row, number):
 def starts_of(row):
     """The list of the pairs (k, depth) of the stairs, which start at k / c, c being the common multiple."""
     common = row.common
-    jumps = {number: jump_of(row, number) for number in range(1, row.greatest + 1)}
+    grown = {}
+    for number, change in parts_of(row).items():
+        # The jump of 1 stands at 1, behind the last stair.
+        if number > 1:
+            for unit in units_of(number):
+                grown[unit * (common // number)] = change
     height = 0
     found = [(0, 0)]
-    for start in range(1, common):
-        grown = jumps.get(common // gcd(start, common), 0)
-        if grown != 0:
-            height = height + grown
-            found.append((start, height))
+    for start in sorted(grown):
+        height = height + grown[start]
+        found.append((start, height))
     return found
 
 
@@ -133,14 +135,11 @@ def told_jumps(value):
 def balanced_members(jumps):
     """The members of the balanced row with these jumps of the integers above 1."""
     found = {}
-    total = 0
-    for member in range(2, MAX_MEMBER + 1):
-        many = MAX_MEMBER // member
-        count = sum([moebius(times) * jumps.get(member * times, 0) for times in range(1, many + 1)])
-        found[member] = count
-        total = total + member * count
+    for number, grown in jumps.items():
+        for divisor, sign in sign_divisors(number):
+            found[divisor] = found.get(divisor, 0) + sign * grown
     # The jump of 1 is not told by the stairs: the excess of 0 tells how often 1 is a member.
-    found[1] = -total
+    found[1] = -sum([member * found[member] for member in found if member > 1])
     return {member: found[member] for member in sorted(found) if found[member] != 0}
 
 

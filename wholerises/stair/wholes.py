@@ -1,6 +1,6 @@
 """Whole rows: quotient rows whose numbers are all integers, and what shows that a row is none."""
 
-from wholerises.base.numbers import MAX_PRIME, check_number, check_prime, is_long_integer, sieved
+from wholerises.base.numbers import MAX_PRIME, check_number, check_prime, is_long_integer, sieved, sieved_from
 from wholerises.base.ratios import ceiling
 from wholerises.errors import InvalidOperation
 from wholerises.row.quotients import check_row, exponent_at
@@ -8,6 +8,8 @@ from wholerises.stair.stairs import each_stair
 
 MAX_BROKEN = 100
 MAX_PRIMED = 1000
+# So many integers at a time are looked through for primes, for often only the first ones are wanted.
+STRETCH = 10000
 
 
 def is_whole(row):
@@ -100,7 +102,6 @@ def each_witness(row):
     told = fault(row)
     if told is None:
         raise InvalidOperation("the row is whole")
-    least = least_bound(row)
-    for prime in sieved(MAX_PRIME):
-        if prime > least:
+    for begin in range(least_bound(row) + 1, MAX_PRIME + 1, STRETCH):
+        for prime in sieved_from(begin, min(begin + STRETCH - 1, MAX_PRIME)):
             yield (prime, told_witness(told, prime))
