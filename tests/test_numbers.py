@@ -113,3 +113,33 @@ class Digits(Case):
         self.refused_each(InvalidNumber, digits_of, NO_INTEGERS + (-1, -LONG), 2)
         self.refused_each(InvalidNumber, lambda base: digits_of(5, base), NO_INTEGERS + (1, 0, -2, 10 ** 6 + 1, LONG))
         self.refused(InvalidNumber(-1), digits_of, -1, 1)
+
+
+class Helpers(Case):
+
+    def test_divisors(self):
+        for number in range(1, 200):
+            divisors = [d for d in range(1, number + 1) if number % d == 0]
+            self.assertEqual(sorted(numbers.divisors_of(number)), divisors)
+            signs = {d: moebius(number // d) for d in divisors if moebius(number // d) != 0}
+            self.assertEqual((dict(numbers.sign_divisors(number)), len(numbers.sign_divisors(number))),
+                             (signs, len(signs)))
+            self.same(numbers.totient(number), len(units_of(number)))
+
+    def test_inverses_and_powers(self):
+        for modulus in list(range(1, 60)) + [999983]:
+            for number in [unit for unit in units_of(min(modulus, 59)) if gcd(unit, modulus) == 1]:
+                for given in (number, number + modulus, number - 3 * modulus):
+                    found = numbers.inverse(given, modulus)
+                    self.same((found * given % modulus, 0 <= found < modulus), (1 % modulus, True))
+        for base in (0, 1, 2, -3, LONG):
+            for exponent in range(12):
+                self.same(numbers.power_of(base, exponent), base ** exponent)
+
+    def test_sieves(self):
+        primes = [number for number in range(2, 3000) if is_plain_prime(number)]
+        for least, most in ((2, 2), (2, 3), (4, 4), (8, 10), (9, 11), (2, 2999), (100, 200), (961, 2000), (2999, 2999)):
+            self.same(numbers.sieved_from(least, most), [prime for prime in primes if least <= prime <= most])
+        for most in (0, 1, 2, 3, 4, 25, 2999):
+            self.same(numbers.sieved(most), [prime for prime in primes if prime <= most])
+        self.same(numbers.sieved_from(999980, 10 ** 6), [999983])
