@@ -70,6 +70,18 @@ BAD = (
     "# _wall\n",
     "def f():\n    return lambda type: 1\n",
     "def f(a):\n    return [sum for sum in a]\n",
+    "def f(a):\n    return g(range(a))\n",
+    "def f(a):\n    return zip(a, a)\n",
+    "def f(a):\n    return (a.items(), 1)\n",
+    "def f(a):\n    return len(enumerate(a))\n",
+    "def f(a):\n    return reversed(a)[0]\n",
+    "def f(a):\n    return 1\ndef g(a):\n    return f(a, 1)\n",
+    "def f(a, b):\n    return 1\ndef g(a):\n    return f(a)\n",
+    "from wholerises.base.ratios import reduced\ndef g(a):\n    return reduced(a)\n",
+    "from wholerises.stair.stairs import each_stair\ndef g(a):\n    return each_stair(a)\n",
+    "def f(a):\n    yield a\ndef g(a):\n    b = f(a)\n    return b\n",
+    "def f(a):\n    return {1: a} == set(a) - a\n",
+    "def f(a):\n    b = set(a)\n    for c in b:\n        return c\n",
 )
 GOOD = (
     '"""Text."""\n\nfrom math import gcd\n\nfrom wholerises.errors import InvalidRow\n\nMOST = 10 ** 6\n\n\n'
@@ -122,6 +134,10 @@ CAUGHT = ("KeyError", "ZeroDivisionError", "StopIteration", "ValueError", "Looku
 NO_NODES = (ast.Global, ast.AsyncFunctionDef, ast.AsyncFor, ast.AsyncWith, ast.Await, ast.Div)
 
 
+AT_ONCE = ("list", "tuple", "dict", "sorted", "sum", "any", "all", "enumerate", "zip", "min", "max")
+VIEWS = ("range", "zip", "enumerate", "reversed")
+
+
 def folder_faults(package):
     """L1, L14: what stands in the folder."""
     faults = []
@@ -146,7 +162,7 @@ def file_faults(text, sources):
         return ["L14 a character"]
     tree = ast.parse(text)
     return (size_faults(text, tree) + word_faults(text, tree) + statement_faults(tree, sources) + name_faults(tree)
-            + node_faults(tree))
+            + node_faults(tree) + iteration_faults(tree, sources) + arity_faults(tree, sources))
 
 
 def size_faults(text, tree):
@@ -336,6 +352,58 @@ def is_let_exponent(node, tree):
         return False
     loops = [one for one in ast.walk(tree) if isinstance(one, (ast.For, ast.comprehension))]
     return bool([one for one in loops if isinstance(one.target, ast.Name) and one.target.id == node.id])
+
+
+def parents_of(tree):
+    """The dict from the number of each node to the node around it."""
+    return {id(inner): node for node in ast.walk(tree) for inner in ast.iter_child_nodes(node)}
+
+
+def functions_in(tree, sources):
+    """The dict from the names of own functions that the file can call by their bare names to their nodes."""
+    found = {node.name: node for node in tree.body if isinstance(node, ast.FunctionDef)}
+    for node in [node for node in tree.body if isinstance(node, ast.ImportFrom)]:
+        path = (node.module or "").replace(".", "/") + ".py"
+        for one in ast.parse(sources.get(path, "")).body:
+            if isinstance(one, ast.FunctionDef) and one.name in [alias.name for alias in node.names]:
+                found[one.name] = one
+    return found
+
+
+def iteration_faults(tree, sources):
+    """L23, L24: what is iterated at once, and sets."""
+    faults = []
+    around = parents_of(tree)
+    yielding = [name for name, node in functions_in(tree, sources).items()
+                if [one for one in ast.walk(node) if isinstance(one, ast.Yield)]]
+    for node in [node for node in ast.walk(tree) if isinstance(node, ast.Call)]:
+        name = node.func.id if isinstance(node.func, ast.Name) else ""
+        view = isinstance(node.func, ast.Attribute) and node.func.attr in ("items", "keys", "values") and not node.args
+        parent = around[id(node)]
+        if name in VIEWS or name in yielding or view:
+            looped = isinstance(parent, (ast.For, ast.comprehension)) and parent.iter is node
+            taken = isinstance(parent, ast.Call) and isinstance(parent.func, ast.Name) and node in parent.args and (
+                parent.func.id in AT_ONCE or (parent.func.id, name) in (("reversed", "range"), ("len", "range")))
+            if not looped and not taken:
+                faults.append(f"L23 {ast.unparse(node)}")
+        if name == "set":
+            sorted_at_once = isinstance(parent, ast.Call) and getattr(parent.func, "id", "") in ("sorted", "len")
+            if not sorted_at_once:
+                faults.append("L24")
+    return faults
+
+
+def arity_faults(tree, sources):
+    """L22: as many arguments as own functions take."""
+    faults = []
+    own = functions_in(tree, sources)
+    for node in [node for node in ast.walk(tree) if isinstance(node, ast.Call) and isinstance(node.func, ast.Name)]:
+        if node.func.id in own and not node.keywords and not [one for one in node.args if isinstance(one, ast.Starred)]:
+            told = own[node.func.id].args
+            most = len(told.posonlyargs) + len(told.args)
+            if not most - len(told.defaults) <= len(node.args) <= most:
+                faults.append(f"L22 {node.func.id}")
+    return faults
 
 
 def call_faults(node):
