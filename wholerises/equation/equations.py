@@ -56,12 +56,21 @@ def numbers_to(row, many):
     return [row.value(number)[0] for number in range(many)]
 
 
-def multiplied(one, other, scales):
-    """The product of two series, their integers being the coefficients, multiplied by the scales."""
+def multiples_of(numbers, scales):
+    """The lists that tell the coefficients of a product with a series, by those of the other series.
+
+    The integers of series are the coefficients, multiplied by the scales.
+    """
+    # If the last scale is 1, all of them are.
     if scales[-1] == 1:
-        return [sum([one[index] * other[place - index] for index in range(place + 1)]) for place in range(len(one))]
-    return [sum([one[index] * other[place - index] * (scales[place] // (scales[index] * scales[place - index]))
-                 for index in range(place + 1)]) for place in range(len(one))]
+        return [numbers[place::-1] for place in range(len(numbers))]
+    return [[numbers[place - index] * (scales[place] // (scales[index] * scales[place - index]))
+             for index in range(place + 1)] for place in range(len(numbers))]
+
+
+def multiplied(coefficients, multiples):
+    """The product of two series, one of which is told by such lists."""
+    return [sum([item * factor for item, factor in zip(coefficients, line)]) for line in multiples]
 
 
 def told_by(degree_z, degree_y, leaves):
@@ -76,10 +85,10 @@ def least_equation(row):
     if not leaves:
         return None
     many = told_by(MOST_Z, leaves, leaves)
-    numbers = numbers_to(row, many)
+    multiples = multiples_of(numbers_to(row, many), [1])
     powers = [[1] + [0] * (many - 1)]
     for _ in range(leaves):
-        powers.append(multiplied(powers[-1], numbers, [1]))
+        powers.append(multiplied(powers[-1], multiples))
     # The first column that is told by the ones ahead of it makes the equation with the least degree in z.
     pairs = [(i, j) for i in range(MOST_Z + 1) for j in range(leaves + 1)]
     found = first_relation([[0] * i + powers[j][:many - i] for i, j in pairs])
@@ -166,10 +175,11 @@ def is_equation(row, value):
 def defect_of(numbers, scales, equation):
     """The first coefficients of the defect, multiplied by the scales, for a series that is told likewise."""
     many = len(numbers)
+    multiples = multiples_of(numbers, scales)
     total = [0] * many
     for power in reversed(range(MOST_Y + 1)):
         if any(total):
-            total = multiplied(total, numbers, scales)
+            total = multiplied(total, multiples)
         for i in range(min(many, MOST_Z + 1)):
             total[i] = total[i] + equation.get((i, power), 0) * scales[i]
     return total
