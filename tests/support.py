@@ -228,6 +228,29 @@ def balanced_rows(degree):
     return found
 
 
+def family_sides(name, one, other):
+    """The tops and the bottoms of a and b in a family, by the definition [18.2], before members are taken out."""
+    if name == "one":
+        return (one + other,), (one, other)
+    if name == "two":
+        return (2 * one, other), (one, 2 * other, one - other)
+    return (2 * one, 2 * other), (one, other, one + other)
+
+
+def family_rows():
+    """All rows of the families within [0.9], each once."""
+    found = {}
+    for one in range(1, 60):
+        for other in range(1, one + 1):
+            for name in ("one", "three", "two") if one > other else ("one", "three"):
+                try:
+                    row = Quotient(*family_sides(name, one, other))
+                except errors.InvalidRow:
+                    continue
+                found[(row.tops, row.bottoms)] = row
+    return [found[key] for key in sorted(found)]
+
+
 def exchanged(table):
     """Rows and columns exchanged."""
     return tuple(zip(*table))

@@ -3,18 +3,21 @@
 import random
 from fractions import Fraction
 from math import comb, gcd
+from time import perf_counter
 
-from wholerises.circle.products import degree_of, products
+from wholerises.circle.products import degree_of, parts, products, products_in
 from wholerises.equation import equations as module
 from wholerises.equation.equations import (
     defect, each_equation, equation_of, is_equation, least_equation, root_of, series, sheets)
 from wholerises.errors import InvalidEquation, InvalidNumber, InvalidOperation, InvalidRow, TooMany
+from wholerises.family.families import apart_rows
 from wholerises.group.groups import orbit
+from wholerises.kept.companions import orbit_within
 from wholerises.row.quotients import Quotient
 from wholerises.stair.wholes import is_whole
 from tests.support import (
     BROKEN, CHEBYSHEV, FIVE, GREATEST, LONG, MIDDLE, NO_INTEGERS, NO_ROWS, OBJECTS, ROWS, SHORT, TURNED, WRONG, Case,
-    balanced_rows, fraction, numbers_of, pair)
+    balanced_rows, family_rows, fraction, numbers_of, pair)
 
 SQUARE = {(0, 0): 1, (0, 2): -1, (1, 2): 4}
 DOUBLE, LAST, TWO = Quotient((4,), (2, 2)), Quotient((6, 1), (3, 2, 2)), Quotient((6, 2), (4, 3, 1))
@@ -103,8 +106,7 @@ class Sheets(Case):
         for degree in (1, 2, 3, 4):
             for row in balanced_rows(degree):
                 if row.height == 1 and is_whole(row):
-                    vectors = fixed_column(row)
-                    self.same(sheets(row), len(orbit(row, vectors)))
+                    self.same(sheets(row), len(orbit(row, fixed_column(products(row)[1]))))
 
     def test_too_many_sheets(self):
         for row in (CHEBYSHEV, MIDDLE * 11, MIDDLE * 30, Quotient((14,), (5, 9))):
@@ -114,9 +116,8 @@ class Sheets(Case):
         self.refused_each(InvalidRow, sheets, NO_ROWS)
 
 
-def fixed_column(row):
-    """A column that the second companion keeps: Q without its factor x - 1, by division from the end."""
-    polynomial = products(row)[1]
+def fixed_column(polynomial):
+    """A column that the companion of Q keeps: Q without its factor x - 1, by division from the end."""
     column = [0] * (len(polynomial) - 1)
     carry = 0
     for index in reversed(range(1, len(polynomial))):
@@ -156,6 +157,45 @@ class Least(Case):
                 pairs = [(i, j) for i in range(degree_z + 1) for j in range(degree_y + 1)]
                 columns = [[int(item) for item in plain_defect(row, {told: 1}, len(pairs) + 4)] for told in pairs]
                 self.assertEqual(plain_rank(columns), len(pairs))
+
+    def test_their_defects(self):
+        for row in EQUATED:
+            found = least_equation(row)
+            leaves = sheets(row)
+            told = leaves * (2 * max(i for i, j in found) + max(j for i, j in found)) // 2 + 1
+            self.assertFalse(any(plain_defect(row, found, told + 12)))
+            self.same(defect(row, found, told + 12), ((0, 1),) * (told + 12))
+
+    def test_they_are_found_by_the_definition(self):
+        for row in EQUATED:
+            found = least_equation(row)
+            most, leaves = max(i for i, j in found), sheets(row)
+            (made,) = relations(row, most, leaves, leaves * (2 * most + leaves) // 2 + 1)
+            divisor = gcd(*made.values()) * (1 if made[max(made, key=lambda told: told[::-1])] > 0 else -1)
+            self.same({key: made[key] // divisor for key in sorted(made)}, found)
+
+    def test_all_rows_that_the_bounds_allow(self):
+        # By [0.13] and [18.5] these are all algebraic rows within the bounds but those of great degrees in no family;
+        # the sheets are more than the degree, as the columns of the orbit make all others and add up to 0.
+        rows = family_rows() + [row for degree in (4, 6, 7, 8) for row in apart_rows(degree)]
+        self.assertGreater(len(rows), 800)
+        many = 0
+        for row in rows:
+            told = products_in(parts(row))
+            few = orbit_within(fixed_column(told[1]), told, 6)
+            self.assertIs(least_equation(row) is not None, few is not None, str(row))
+            self.assertIs(equation_of(row) is not None, few is not None)
+            self.same(len(list(each_equation(row))), 0 if few is None else 7 - len(few))
+            many += few is not None
+        self.same(many, len(EQUATED))
+
+    def test_they_are_found_fast(self):
+        for row in EQUATED + UNEQUATED:
+            for action in (least_equation, equation_of, lambda row: list(each_equation(row))):
+                begin = perf_counter()
+                for _ in range(200):
+                    action(row)
+                self.assertLess(perf_counter() - begin, 1)
 
     def test_some(self):
         self.same(least_equation(DOUBLE), {(0, 2): -1, (0, 4): 1, (1, 0): 4, (1, 2): 16, (1, 4): -32, (2, 4): 256})

@@ -2,14 +2,19 @@
 
 from wholerises.base import numbers, polynomials, ratios, tables
 from wholerises.circle import products, walks
+from wholerises.desk import desks, promises
 from wholerises.equation import equations
+from wholerises.family import families
 from wholerises.group import groups
 from wholerises.kept import companions
 from wholerises.kept import tables as kept_tables
-from wholerises.rest import operators
+from wholerises.mirror import mirrors, series
+from wholerises.prime import windows
+from wholerises.rest import lucas, operators
 from wholerises.rise import risings, units
 from wholerises.row import quotients
 from wholerises.stair import cells, stairs, wholes
+from wholerises.text import formats, shell
 from tests.support import BROKEN, CHEBYSHEV, FIVE, MIDDLE, TURNED, Case
 
 NAMES = {"MIDDLE": MIDDLE, "CHEBYSHEV": CHEBYSHEV, "FIVE": FIVE, "BROKEN": BROKEN, "TURNED": TURNED}
@@ -221,6 +226,90 @@ OPERATORS = """
 raises InvalidOperation
 """
 
+LUCAS = """
+>>> [rest(MIDDLE, 3 * 7 ** 30 + 2, 7), by_digits(MIDDLE, 3 * 7 ** 30 + 2, 7), rest(CHEBYSHEV, 10 ** 20, 101), [value for value, place in zip(each_rest(MIDDLE, 5), range(6))]]
+[1, 1, 0, [1, 2, 1, 0, 0, 2]]
+>>> [goes_by_digits(row) for row in (MIDDLE, FIVE, CHEBYSHEV)], bend(CHEBYSHEV), bend(MIDDLE)
+([True, True, False], ((1, 5), (31, 6)), None)
+>>> THREE = Quotient((3,), (2, 1))
+>>> [digit_fault(THREE, 11), far_fault(THREE, 11), is_digit_fault(THREE, 11, (1, 7)), digit_fault(CHEBYSHEV, 11), digit_fault(MIDDLE, 97, most=3)]
+[(1, 6), (1, 6), True, (2, 4), None]
+>>> [cube_exponent(MIDDLE, 1, 3), cube_exponent(MIDDLE, 1, 5), cube_exponent(MIDDLE, 5, 5), cube_exponent(FIVE, 2, 5)]
+[2, 3, 6, 6]
+>>> far_fault(THREE, 7)
+raises InvalidOperation
+"""
+
+MIRRORS = """
+>>> [mirror(MIDDLE, 5), back_mirror(MIDDLE, 4)] == [((1, 1), (2, 1), (5, 1), (14, 1), (42, 1)), ((0, 1), (1, 1), (-2, 1), (3, 1))]
+True
+>>> [top for top, bottom in mirror(FIVE, 4)], [top for top, bottom in part_mirror(FIVE, 5, 3)], part_mirror(MIDDLE, 3, 3)[2]
+([1, 770, 1014275, 1703916750], [1, 274, 336803], (634, 45))
+>>> FOUR = Quotient((4,), (2, 2))
+>>> [is_mirror_whole(FIVE), is_mirror_whole(FOUR), mirror_place(FOUR), weight_at(FOUR, (1, 2)), mirror_witness(FOUR, 17), mirror(FOUR, 3)[2]]
+[True, False, (1, 2), (2, 1), 9, (575, 3)]
+>>> [harmonic(4), series_log(((1, 1), (1, 1), (0, 1))), series_back(((0, 1), (1, 1), (-1, 1)))]
+[(25, 12), ((0, 1), (1, 1), (-1, 2)), ((0, 1), (1, 1), (1, 1))]
+"""
+
+WINDOWS = """
+>>> SHORT = Quotient((3,), (2, 1))
+>>> windows(MIDDLE), windows(SHORT), is_windowed(FIVE), len(windows(CHEBYSHEV)), windows(CHEBYSHEV)[1]
+((((1, 2), (1, 1)),), (((1, 3), (1, 2)), ((2, 3), (1, 1))), False, 8, ((7, 30), (1, 3)))
+>>> window_primes(MIDDLE, 10), window_primes(SHORT, 10), prime_product(MIDDLE, 5), exponent_by_windows(MIDDLE, 2, 3)
+((11, 13, 17, 19), (7, 11, 13, 23, 29), 7, 2)
+>>> [cofactor(MIDDLE, number) for number in (0, 1, 2, 5)], lcm_to(10), primes_to(12), growth(SHORT), growth(FIVE)
+([1, 1, 2, 10], 2520, (2, 3, 5, 7, 11), (27, 4), (3125, 1))
+>>> prime_intervals(MIDDLE, 10, 1), prime_intervals(SHORT, 10, 0)
+((((10, 1), (20, 1)), ((5, 1), (20, 3))), (((20, 1), (30, 1)), ((10, 1), (15, 1))))
+>>> windows(BROKEN)
+raises InvalidOperation
+"""
+
+FAMILIES = """
+>>> [len(rows_of_degree(degree)) for degree in range(1, 9)], [len(apart_rows(degree)) for degree in range(1, 9)]
+([1, 3, 3, 11, 7, 23, 21, 51], [0, 0, 0, 2, 0, 10, 10, 32])
+>>> [str(row) for row in rows_of_degree(2)], [str(row) for row in apart_rows(4)]
+(['quotient 3/2 1', 'quotient 4/2 2', 'quotient 6 1/3 2 2'], ['quotient 12 1/6 4 3', 'quotient 12 3 2/6 6 4 1'])
+>>> [families_of(Quotient((4,), (2, 2))), families_of(Quotient((4,), (3, 1))), families_of(CHEBYSHEV), is_apart(CHEBYSHEV), is_algebraic(BROKEN)]
+[(('one', 2, 2), ('three', 2, 2), ('two', 2, 1)), (('one', 3, 1), ('three', 2, 1)), (), True, False]
+>>> [str(family_row("two", 5, 2)), family_degree("two", 5, 2), family_degree("three", 4, 4), family_members("two", 4)]
+['quotient 10 2/5 4 3', 5, 4, ((4, 1), (4, 2), (4, 3), (5, 1), (5, 3), (6, 2))]
+>>> [len(row.tops) for row in apart_rows(8)].count(4), [str(row) for row in apart_rows(8) if row.divided() != row]
+(2, ['quotient 24 2/12 8 6', 'quotient 24 6 4/12 12 8 2'])
+>>> family_row("two", 3, 3)
+raises InvalidOperation
+>>> family_degree("four", 1, 1)
+raises UnknownName("four")
+"""
+
+PROMISES = """
+>>> [does_hold(CHEBYSHEV, ("algebraic",)), does_hold(FIVE, ("digits",)), does_hold(BROKEN, ("depth", -1)), is_promise(("height", 9))]
+[True, True, True, False]
+>>> [paper_against(TURNED, ("height", 0)), is_paper_against(BROKEN, ("whole",), ("at", (14, 3))), is_paper_against(CHEBYSHEV, ("digits",), ("at", (1, 2)))]
+[('height', -1), True, True]
+"""
+
+DESKS = """
+>>> desk = Desk(MIDDLE)
+>>> [desk.promise(("whole",)), desk.would((("exchanged",),)), desk.do((("times", 3), ("top", 1), ("bottom", 1)))]
+[True, (('whole',),), 2]
+>>> [str(desk.row), desk.do((("divided",), ("plus", BROKEN))), str(desk.row), desk.undo(2), desk.row == MIDDLE]
+['quotient 6/3 3', 3, 'quotient 4/3 1', 1, True]
+>>> desk.do((("top", 7), ("times", 10)))
+raises Refused(("deed", 1, "great"))
+"""
+
+SHELL = """
+>>> [write_row(CHEBYSHEV), read_row("1,30/15,10,6") == CHEBYSHEV, read_stairs("0/1:0,1/2:1")]
+['30,1/15,10,6', True, (((0, 1), 0), ((1, 2), 1))]
+>>> shell = Shell(MIDDLE)
+>>> [shell.say(text) for text in ("show", "promise whole", "exchanged", "times 3", "depth 1/6", "exponent 7 2", "stairs")]
+['2/1,1', 'new', 'refused broken whole', 'version 2', '1', '1', '0/1:0,1/6:1,1/3:0,1/2:1,2/3:0,5/6:1']
+>>> list(shell.run(("open", "top 7", "bottom 7", "show", "undo", "end", "ask algebraic", "fault", "times x", "drop digits", "undo 9")))
+['open', 'put 1', 'put 2', '6/3,3', 'invalid', 'version 2', 'yes', 'none', 'wrong at 1', 'missing', 'nothing to undo']
+"""
+
 
 class Examples(Case):
 
@@ -280,3 +369,24 @@ class Examples(Case):
 
     def test_operators(self):
         self.check(OPERATORS, operators)
+
+    def test_lucas(self):
+        self.check(LUCAS, quotients, lucas)
+
+    def test_mirrors(self):
+        self.check(MIRRORS, quotients, series, mirrors)
+
+    def test_windows(self):
+        self.check(WINDOWS, quotients, windows)
+
+    def test_families(self):
+        self.check(FAMILIES, quotients, families)
+
+    def test_promises(self):
+        self.check(PROMISES, promises)
+
+    def test_desks(self):
+        self.check(DESKS, desks)
+
+    def test_shell(self):
+        self.check(SHELL, formats, shell)

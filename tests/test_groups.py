@@ -116,6 +116,13 @@ class Elements(Case):
             found = list(islice(each_element(row), len(wanted)))
             self.same(found, wanted)
 
+    def test_all_of_them_with_their_words(self):
+        for row in SOME[::2]:
+            wanted = plain_elements(row, 5 if degree_of(row) < 3 else 4)
+            found = list(each_element(row))[:len(wanted)]
+            self.same(found, list(wanted)[:len(found)])
+            self.same([word_of(row, matrix) for matrix in found], [wanted[matrix] for matrix in found])
+
     def test_their_lengths(self):
         for row in FINITE[::3]:
             words = [word_of(row, matrix) for matrix in each_element(row)]

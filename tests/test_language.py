@@ -82,10 +82,26 @@ BAD = (
     "def f(a):\n    yield a\ndef g(a):\n    b = f(a)\n    return b\n",
     "def f(a):\n    return {1: a} == set(a) - a\n",
     "def f(a):\n    b = set(a)\n    for c in b:\n        return c\n",
+    "def f(a):\n    for b in a:\n        a.append(b)\n",
+    "def f(a):\n    for k, b in enumerate(a):\n        a[k] = b\n",
+    "def f(a):\n    for k, b in a.items():\n        del a[k]\n",
+    "def f(a):\n    for b in a.c:\n        a.c.pop()\n",
+    "def f(a, c):\n    for b in a if c else c:\n        c.append(b)\n",
+    "def f(a):\n    for b in a:\n        a += [b]\n",
+    "def f(a):\n    b = a\n    for c in zip(a, a):\n        b.append(c)\n",
+    "def f(a):\n    b = []\n    while a:\n        c = []\n        for d in b:\n            c.append(d)\n        b = c\n",
+    "def f(a, b):\n    b, a = a, 1\n    for c in b:\n        a.append(c)\n",
+    "def f(a):\n    return [a.pop() for b in a]\n",
+    "class A:\n    def __exit__(self, kind, value, trace):\n        self.close()\n",
+    "class A:\n    def __len__(self):\n        return self.n\n",
 )
 GOOD = (
     '"""Text."""\n\nfrom math import gcd\n\nfrom wholerises.errors import InvalidRow\n\nMOST = 10 ** 6\n\n\n'
-    "def f(one, other=MOST):\n    return any([gcd(one, other) == k ** 2 for k in range(one)])\n",)
+    "def f(one, other=MOST):\n    return any([gcd(one, other) == k ** 2 for k in range(one)])\n",
+    "def f(a):\n    b = []\n    for c in list(b):\n        b.append(c)\n    for c in a:\n        b.append(c)\n",
+    "def f(a):\n    b = []\n    while a:\n        c = []\n        for d in list(b):\n            c.append(d)\n"
+    "        b = c\n",
+    "class A:\n    def __exit__(self, kind, value, trace):\n        self.n = False\n",)
 
 LIBRARY = {
     "heapq": ("heappush", "heappop", "heapify", "heapreplace", "heappushpop"),
@@ -134,6 +150,8 @@ CAUGHT = ("KeyError", "ZeroDivisionError", "StopIteration", "ValueError", "Looku
 NO_NODES = (ast.Global, ast.AsyncFunctionDef, ast.AsyncFor, ast.AsyncWith, ast.Await, ast.Div)
 
 
+CHANGES = (
+    "append", "clear", "extend", "insert", "pop", "remove", "reverse", "setdefault", "update", "sort", "add", "discard")
 AT_ONCE = ("list", "tuple", "dict", "sorted", "sum", "any", "all", "enumerate", "zip", "min", "max")
 VIEWS = ("range", "zip", "enumerate", "reversed")
 
@@ -162,7 +180,7 @@ def file_faults(text, sources):
         return ["L14 a character"]
     tree = ast.parse(text)
     return (size_faults(text, tree) + word_faults(text, tree) + statement_faults(tree, sources) + name_faults(tree)
-            + node_faults(tree) + iteration_faults(tree, sources) + arity_faults(tree, sources))
+            + node_faults(tree) + iteration_faults(tree, sources) + arity_faults(tree, sources) + change_faults(tree))
 
 
 def size_faults(text, tree):
@@ -393,6 +411,69 @@ def iteration_faults(tree, sources):
     return faults
 
 
+def change_faults(tree):
+    """L23: what a loop walks is not changed in it, by no name that it has."""
+    faults = []
+    for function in [node for node in ast.walk(tree) if isinstance(node, ast.FunctionDef)]:
+        names = names_of_one_value(function)
+        for node in ast.walk(function):
+            if isinstance(node, ast.For):
+                walked, rows = walked_in(node.iter), node.body
+            elif isinstance(node, (ast.ListComp, ast.SetComp, ast.DictComp, ast.GeneratorExp)):
+                walked, rows = [one for part in node.generators for one in walked_in(part.iter)], [node]
+            else:
+                continue
+            for changed in [one for row in rows for one in changed_in(row)]:
+                if names.get(changed, changed) in [names.get(one, one) for one in walked]:
+                    faults.append(f"L23 {changed} in row {node.lineno}")
+    return faults
+
+
+def names_of_one_value(function):
+    """The dict from names that one plain value can have, each put into the place of another, to one of them."""
+    found = {}
+    for node in [node for node in ast.walk(function) if isinstance(node, ast.Assign)]:
+        for target in node.targets:
+            sides = [(target, node.value)]
+            if isinstance(target, ast.Tuple) and isinstance(node.value, ast.Tuple):
+                sides = list(zip(target.elts, node.value.elts))
+            for one, value in sides:
+                for other in walked_in(value):
+                    if isinstance(one, (ast.Name, ast.Attribute)):
+                        told = found.get(ast.unparse(one), ast.unparse(one))
+                        found = {key: found.get(other, other) if found[key] == told else found[key] for key in found}
+                        found[ast.unparse(one)] = found.setdefault(other, other)
+    return found
+
+
+def walked_in(node):
+    """The names and attributes that a walk over an expression goes over, as texts."""
+    if isinstance(node, (ast.Name, ast.Attribute)):
+        return [ast.unparse(node)]
+    if isinstance(node, ast.IfExp):
+        return walked_in(node.body) + walked_in(node.orelse)
+    if isinstance(node, ast.BoolOp):
+        return [one for value in node.values for one in walked_in(value)]
+    if isinstance(node, ast.Call) and isinstance(node.func, ast.Name) and node.func.id in VIEWS:
+        return [one for value in node.args for one in walked_in(value)]
+    if isinstance(node, ast.Call) and isinstance(node.func, ast.Attribute) and node.func.attr in ("items", "keys", "values"):
+        return walked_in(node.func.value)
+    return []
+
+
+def changed_in(node):
+    """The names and attributes that are changed within a node, as texts."""
+    found = []
+    for one in ast.walk(node):
+        if isinstance(one, ast.Call) and isinstance(one.func, ast.Attribute) and one.func.attr in CHANGES:
+            found.append(ast.unparse(one.func.value))
+        elif isinstance(one, ast.Subscript) and isinstance(one.ctx, (ast.Store, ast.Del)):
+            found.append(ast.unparse(one.value))
+        elif isinstance(one, ast.AugAssign):
+            found.append(ast.unparse(one.target))
+    return found
+
+
 def arity_faults(tree, sources):
     """L22: as many arguments as own functions take."""
     faults = []
@@ -430,6 +511,11 @@ def class_faults(node):
     for one in node.body:
         if isinstance(one, ast.FunctionDef) and one.name.startswith("__") and one.name not in DUNDERS:
             faults.append(f"L5 {one.name}")
+        if isinstance(one, ast.FunctionDef) and one.name == "__exit__":
+            faults += [f"L6 {ast.unparse(row)}" for row in one.body if not isinstance(row, ast.Assign)]
+        if isinstance(one, ast.FunctionDef) and one.name == "__len__":
+            faults += [f"L28 {ast.unparse(row)}" for row in ast.walk(one) if isinstance(row, ast.Return)
+                       and not ast.unparse(row.value).startswith("len(")]
     return faults
 
 

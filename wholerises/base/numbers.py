@@ -146,6 +146,19 @@ def power_of(base, exponent):
     return power
 
 
+def power_modulo(base, exponent, modulus):
+    """What the power of an integer leaves by the modulus, for an exponent of at least 0."""
+    power = 1
+    square = base
+    left = exponent
+    while left > 0:
+        if left % 2 == 1:
+            power = power * square % modulus
+        square = square * square % modulus
+        left = left // 2
+    return power % modulus
+
+
 def units_of(number):
     """The ascending tuple of the integers from 1 to the number without a common divisor above 1 with it."""
     check_number(number, 1, MAX_COMMON)
@@ -188,12 +201,17 @@ def digits_of(number, base):
     """The tuple of the digits of the number to the base, that with the index 0 first."""
     check_number(number, 0, MAX_INTEGER)
     check_number(base, 2, MAX_BASE)
+    return tuple(digits_to(number, base))
+
+
+def digits_to(number, base):
+    """The list of the digits to the base of an integer of any size of at least 0, that with the index 0 first."""
     digits = []
     left = number
     while left > 0:
         digits.append(left % base)
         left = left // base
-    return tuple(digits)
+    return digits
 
 
 def times_within(prime, number):

@@ -2,20 +2,35 @@
 
 from math import comb, lcm
 
-from wholerises.base.numbers import check_number, divisor_of_all, is_between, is_integer, is_long_integer, power_of
+from wholerises.base.numbers import check_number, is_between, is_integer, is_long_integer, power_of
 from wholerises.base.polynomials import divided
 from wholerises.base.ratios import reduced
 from wholerises.circle.products import parts_of, products_in
 from wholerises.errors import InvalidEquation, InvalidOperation, TooMany
 from wholerises.kept.companions import orbit_within
 from wholerises.row.quotients import MOST_FACTORIAL, check_row
-from wholerises.stair.wholes import is_whole
+from wholerises.stair.wholes import is_algebraic_row
 
 MOST_Z = 3
 MOST_Y = 6
 MOST_SHEETS = 2000
 MOST_SERIES = 60
 MOST_ROOT = 24
+# The rows that have an equation are these alone, told by their tops and bottoms; the triples (i, j, integer) tell their
+# least equations. To find them anew in each call would take long.
+LEAST_EQUATIONS = {
+    ((2,), (1, 1)): ((0, 0, 1), (0, 2, -1), (1, 2, 4)),
+    ((3,), (2, 1)): ((0, 0, 1), (0, 1, 3), (0, 3, -4), (1, 3, 27)),
+    ((4,), (2, 2)): ((0, 2, -1), (0, 4, 1), (1, 0, 4), (1, 2, 16), (1, 4, -32), (2, 4, 256)),
+    ((4,), (3, 1)): ((0, 0, 1), (0, 1, 8), (0, 2, 18), (0, 4, -27), (1, 4, 256)),
+    ((5,), (4, 1)): ((0, 0, 1), (0, 1, 15), (0, 2, 80), (0, 3, 160), (0, 5, -256), (1, 5, 3125)),
+    ((6,), (5, 1)): (
+        (0, 0, 1), (0, 1, 24), (0, 2, 225), (0, 3, 1000), (0, 4, 1875), (0, 6, -3125), (1, 6, 46656)),
+    ((6, 1), (3, 2, 2)): (
+        (0, 0, 1), (0, 2, -9), (0, 4, 24), (0, 6, -16), (1, 0, -432), (1, 2, 972), (1, 4, -5184), (1, 6, 5184),
+        (2, 0, 46656), (2, 4, 279936), (2, 6, -559872), (3, 6, 20155392)),
+    ((6, 2), (4, 3, 1)): (
+        (0, 4, -4), (0, 6, 4), (1, 0, 1), (1, 2, 27), (1, 4, 108), (1, 6, -216), (2, 6, 2916))}
 
 
 def series(row, many):
@@ -27,28 +42,17 @@ def series(row, many):
     return tuple([row.value(number) for number in range(many)])
 
 
-def is_algebraic_here(row):
-    """Whether the row is balanced and whole, and its height is 1."""
-    return row.is_balanced and row.height == 1 and is_whole(row)
-
-
-def sheets_within(row, most):
-    """The sheets of a row, 0 if it is not algebraic, or None if there are more than `most`."""
-    if not is_algebraic_here(row):
-        return 0
-    one, other = products_in(parts_of(row))
-    # The companion of Q keeps what Q is without its factor x - 1.
-    found = orbit_within(divided(other, (-1, 1)), (one, other), most)
-    return None if found is None else len(found)
-
-
 def sheets(row):
     """The sheets; 0 for a row that is not algebraic."""
     check_row(row)
-    found = sheets_within(row, MOST_SHEETS)
+    if not is_algebraic_row(row):
+        return 0
+    one, other = products_in(parts_of(row))
+    # The companion of Q keeps what Q is without its factor x - 1.
+    found = orbit_within(divided(other, (-1, 1)), (one, other), MOST_SHEETS)
     if found is None:
         raise TooMany(MOST_SHEETS)
-    return found
+    return len(found)
 
 
 def numbers_to(row, many):
@@ -73,57 +77,16 @@ def multiplied(coefficients, multiples):
     return [sum([item * factor for item, factor in zip(coefficients, line)]) for line in multiples]
 
 
-def told_by(degree_z, degree_y, leaves):
-    """How many first coefficients of a defect, being 0, tell that it is 0, for a row with so many sheets."""
-    return leaves * (2 * degree_z + degree_y) // 2 + 1
-
-
 def least_equation(row):
     """The least equation of the row, or None."""
     check_row(row)
-    leaves = sheets_within(row, MOST_Y)
-    if not leaves:
-        return None
-    many = told_by(MOST_Z, leaves, leaves)
-    multiples = multiples_of(numbers_to(row, many), [1])
-    powers = [[1] + [0] * (many - 1)]
-    for _ in range(leaves):
-        powers.append(multiplied(powers[-1], multiples))
-    # The first column that is told by the ones ahead of it makes the equation with the least degree in z.
-    pairs = [(i, j) for i in range(MOST_Z + 1) for j in range(leaves + 1)]
-    found = first_relation([[0] * i + powers[j][:many - i] for i, j in pairs])
-    if found is None:
-        return None
-    return with_sign({pair: item for pair, item in zip(pairs, found) if item != 0})
+    told = least_items(row)
+    return None if told is None else {(i, j): item for i, j, item in told}
 
 
-def first_relation(columns):
-    """The integers by which the first columns are multiplied and added up to 0, as few as can be, or None."""
-    pivots = []
-    for many, column in enumerate(columns):
-        left = column
-        factors = [0] * many + [1]
-        for place, line, multiples in pivots:
-            if left[place] != 0:
-                one, other = line[place], left[place]
-                left = [one * item - other * more for item, more in zip(left, line)]
-                multiples = multiples + [0] * (len(factors) - len(multiples))
-                factors = [one * item - other * more for item, more in zip(factors, multiples)]
-        divisor = divisor_of_all(left + factors)
-        left = [item // divisor for item in left]
-        factors = [item // divisor for item in factors]
-        if not any(left):
-            return factors
-        pivots.append(([item != 0 for item in left].index(True), left, factors))
-    return None
-
-
-def with_sign(equation):
-    """The equation or its opposite: the integer at the greatest j, and there at the greatest i, is above 0."""
-    last = max([(j, i) for i, j in equation])
-    if equation[(last[1], last[0])] > 0:
-        return equation
-    return {pair: -equation[pair] for pair in equation}
+def least_items(row):
+    """The triples of the least equation of the row, or None."""
+    return LEAST_EQUATIONS.get((row.tops, row.bottoms))
 
 
 def equation_of(row):
@@ -133,10 +96,16 @@ def equation_of(row):
 
 def each_equation(row):
     """Yields the least equation, multiplied by the powers of y, as long as no degree is too great."""
-    least = least_equation(row)
-    if least is not None:
-        for power in range(MOST_Y + 1 - max([j for i, j in least])):
-            yield {(i, j + power): least[(i, j)] for i, j in least}
+    check_row(row)
+    told = least_items(row)
+    if told is not None:
+        for power in range(MOST_Y + 1 - leaves_of(told)):
+            yield {(i, j + power): item for i, j, item in told}
+
+
+def leaves_of(told):
+    """The sheets of the row with a least equation that is told by triples: its degree in y."""
+    return max([j for i, j, item in told])
 
 
 def is_exponent_pair(value):
@@ -164,12 +133,17 @@ def is_equation(row, value):
     check_row(row)
     if not is_long_equation(value):
         return False
-    leaves = sheets_within(row, MOST_Y)
-    if not leaves:
+    least = least_items(row)
+    if least is None:
         return False
     told = [(i, j) for i, j in value if value[(i, j)] != 0]
-    many = told_by(max([i for i, j in told]), max([j for i, j in told]), leaves)
+    many = told_by(max([i for i, j in told]), max([j for i, j in told]), leaves_of(least))
     return not any(defect_of(numbers_to(row, many), [1] * many, value))
+
+
+def told_by(degree_z, degree_y, leaves):
+    """How many first coefficients of a defect, being 0, tell that it is 0, for a row with so many sheets."""
+    return leaves * (2 * degree_z + degree_y) // 2 + 1
 
 
 def defect_of(numbers, scales, equation):

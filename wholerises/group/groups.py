@@ -73,7 +73,8 @@ def each_spelled(told):
     level = [(first, "")]
     while level:
         behind = []
-        for matrix, word in level:
+        # A copy is walked, since what is gathered behind takes the place of the level.
+        for matrix, word in list(level):
             yield (matrix, word)
             for line in matrix:
                 if line not in moved:

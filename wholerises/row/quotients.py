@@ -216,6 +216,12 @@ def check_row(row):
         raise InvalidRow("no quotient row")
 
 
+def check_balanced(row):
+    """Raises InvalidOperation unless the row is balanced."""
+    if not row.is_balanced:
+        raise InvalidOperation("the row is not balanced")
+
+
 def exponent_at(row, prime, number):
     """The exponent of the prime in u(n), for an integer n of any size of at least 0."""
     return sum([count * factorial_exponent(prime, member * number) for member, count in row])

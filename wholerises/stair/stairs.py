@@ -15,6 +15,11 @@ def depth(row, ratio):
     check_ratio(ratio)
     if ratio[0] < 0:
         raise InvalidOperation("there is no depth below 0")
+    return depth_at(row, ratio)
+
+
+def depth_at(row, ratio):
+    """The depth at a ratio of integers of any size."""
     return sum([count * (member * ratio[0] // ratio[1]) for member, count in row])
 
 

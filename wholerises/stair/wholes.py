@@ -1,10 +1,10 @@
 """Whole rows: quotient rows whose numbers are all integers, and what shows that a row is none."""
 
 from wholerises.base.numbers import MAX_PRIME, check_number, check_prime, is_long_integer, sieved, sieved_from
-from wholerises.base.ratios import ceiling
+from wholerises.base.ratios import ceiling, reduced
 from wholerises.errors import InvalidOperation
 from wholerises.row.quotients import check_row, exponent_at
-from wholerises.stair.stairs import each_stair
+from wholerises.stair.stairs import each_stair, least_depth, starts_of
 
 MAX_BROKEN = 100
 MAX_PRIMED = 1000
@@ -14,7 +14,29 @@ STRETCH = 10000
 
 def is_whole(row):
     """Whether the row is whole."""
-    return fault(row) is None
+    return least_depth(row) >= 0 and row.excess >= 0
+
+
+def check_whole(row):
+    """Raises InvalidOperation unless the row is whole."""
+    if not is_whole(row):
+        raise InvalidOperation("the row is not whole")
+
+
+def is_algebraic_row(row):
+    """Whether the row is balanced and whole, and its height is 1."""
+    return row.is_balanced and row.height == 1 and is_whole(row)
+
+
+def late_zero(row):
+    """The first place behind the first stair at which the depth is 0, or None.
+
+    The first stair ends at 1 / M, M being the greatest of a row with a member above 1.
+    """
+    for start, height in starts_of(row)[1:]:
+        if height == 0:
+            return reduced(start, row.common)
+    return None
 
 
 def fault(row):

@@ -1,0 +1,1 @@
+"""Promises about rows, and desks that keep them."""

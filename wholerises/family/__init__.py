@@ -1,0 +1,1 @@
+"""The algebraic rows and their families."""

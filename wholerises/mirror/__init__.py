@@ -1,0 +1,1 @@
+"""Power series, and the mirrors of balanced rows."""

@@ -1,0 +1,1 @@
+"""Texts of rows, and a shell that is told what to do by texts."""
