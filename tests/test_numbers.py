@@ -135,6 +135,8 @@ class Helpers(Case):
         for base in (0, 1, 2, -3, LONG):
             for exponent in range(12):
                 self.same(numbers.power_of(base, exponent), base ** exponent)
+                for modulus in (1, 2, 7, 9973):
+                    self.same(numbers.power_modulo(base, exponent, modulus), base ** exponent % modulus)
 
     def test_sieves(self):
         primes = [number for number in range(2, 3000) if is_plain_prime(number)]

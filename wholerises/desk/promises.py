@@ -72,7 +72,8 @@ def paper_of(row, promise):
         return ("height", row.height)
     if name in ("whole", "depth"):
         return ("at", low_place(row, low_bound(promise)))
-    for part in ALGEBRAIC if name == "algebraic" else DIGITS:
+    parts = ALGEBRAIC if name == "algebraic" else DIGITS
+    for part in parts:
         paper = paper_of(row, part)
         if paper is not None:
             return paper
