@@ -214,6 +214,7 @@ class Wholes(Case):
         self.refused_each(InvalidNumber, lambda prime: mirror_witness(FOUR, prime), NO_PRIMES)
         self.refused_each(InvalidOperation, mirror_witness, NOT_BALANCED + (BROKEN, TURNED, GREAT, MIDDLE, FIVE), 999983)
         self.refused_each(InvalidNumber, lambda prime: mirror_witness(BROKEN, prime), NO_PRIMES)
+        self.refused(InvalidRow, mirror_witness, None, 4)
         for prime in (2, 3, 5, 7, 11, 13):
             self.refused(InvalidOperation, mirror_witness, FOUR, prime)
         self.refused_each(InvalidRow, weight_at, NO_ROWS, (1, 2))

@@ -246,7 +246,9 @@ class Saying(Case):
                              ("undo ", "wrong at 1"), ("exponent 7", "wrong at 2"), ("exponent", "wrong at 1"),
                              ("promise height", "wrong at 2"), ("end x", "wrong at 1"), ("top 99 x", "wrong at 2"),
                              ("depth 2/4 x", "wrong at 2"), ("plus -/-", "invalid"), ("plus 2", "wrong at 1"),
-                             ("plus 61/1", "invalid"), ("plus " + "1" * 61 + "/1", "wrong at 1"), ("", "")):
+                             ("plus 61/1", "invalid"), ("ask depth -999999999", "yes"), ("ask depth 999999999", "no"),
+                             ("ask depth -1000000000", "wrong at 2"), ("ask depth 1000000000", "wrong at 2"),
+                             ("exponent 7 999999999", "6"), ("exponent 7 1000000000", "wrong at 2"), ("plus " + "1" * 61 + "/1", "wrong at 1"), ("", "")):
             shell = Shell(MIDDLE)
             self.same((shell.say(text), len(shell), shell.desk.version), (answer, 1, 0))
 

@@ -135,6 +135,7 @@ class Witnesses(Case):
             for prime, number in found[:200]:
                 self.same(number, witness(row, prime))
         self.same(next(each_witness(BROKEN)), (17, 12))
+        self.same(next(each_witness(TURNED)), (5, 3))
         self.same(next(each_witness(GREATEST.exchanged()))[0], 3607)
 
     def test_errors_of_each_witness(self):

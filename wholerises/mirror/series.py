@@ -24,7 +24,7 @@ def check_series(series):
 
 
 def total_of(fractions):
-    """The sum of fractions, pairs (top, bottom) that need not be in lowest terms, the bottoms above 0."""
+    """The sum of fractions, pairs (top, bottom) that need not be in lowest terms, the bottoms not 0."""
     common = 1
     for top, bottom in fractions:
         if common % bottom != 0:
@@ -73,7 +73,7 @@ def series_quotient(one, other):
 def quotient_of_terms(one, other):
     """The quotient of what are surely such series."""
     # Both are divided by the term 0 of the second one, which is 1 then.
-    bottom, top = other[0] if other[0][0] > 0 else (-other[0][0], -other[0][1])
+    bottom, top = other[0]
     less = [reduced(-item * top, scale * bottom) for item, scale in other]
     made = []
     for place in range(min(len(one), len(other))):
